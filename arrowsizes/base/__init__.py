@@ -1,0 +1,1 @@
+"""Integers, names, fractions and rows of sizes."""

@@ -1,0 +1,1 @@
+"""Plans of points and arrows."""

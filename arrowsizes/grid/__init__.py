@@ -1,0 +1,1 @@
+"""Tables modulo a prime."""

@@ -1,0 +1,1 @@
+"""Polynomials, quotients and series."""

@@ -1,0 +1,135 @@
+"""The examples of the document, as they are printed there."""
+
+import ast
+import unittest
+
+from arrowsizes import errors
+from arrowsizes.base import numbers
+from arrowsizes.chart import plans
+from arrowsizes.grid import tables
+from arrowsizes.poly import polys, series
+from arrowsizes.slices import partitions
+from tests.helpers import Case
+
+VALUES = """
+TWINS = Plan(2, ((0, 1), (0, 1)))
+THRICE = Plan(2, ((0, 1), (0, 1), (0, 1)))
+STAR = Plan(4, ((1, 0), (2, 0), (3, 0)))
+BENT = Plan(3, ((0, 1), (1, 2), (0, 2)))
+"""
+
+NUMBERS = """
+>>> [is_prime(91), is_prime(97), is_name("Ab"), divisors(12), [moebius(1), moebius(12), moebius(30)], common_divisor((12, -18, 0))]
+[False, True, False, (1, 2, 3, 4, 6, 12), [1, 0, -1], 6]
+>>> [binomial(6, 2), binomial(2, 3), fraction(6, -4), fraction(0, 7), rows_below((2, 1)), len(rows_below((6, 6, 6)))]
+[15, 0, (-3, 2), (0, 1), ((0, 0), (0, 1), (1, 0), (1, 1), (2, 0), (2, 1)), 343]
+>>> rows_below((6, 6, 6, 6, 6))
+raises TooMany(3000)
+"""
+
+POLYS = """
+>>> HALF = Quotient(Poly((-1, 0, 1)), Poly((-2, 2)))
+>>> [str(Poly((1, -2, 0, 1))), str(HALF), HALF.at(4), str(HALF.minus(Quotient(1, 2))), Quotient(6, -4).bottom.coefficients]
+['q^3 - 2*q + 1', '(q + 1)/(2)', (5, 2), '(q)/(2)', (2,)]
+>>> [str(gauss(4, 2)), turn_count(2).coefficients, str(power_of_q(-2)), Poly((1, 1)).spread(3).coefficients]
+['q^4 + q^3 + 2*q^2 + q + 1', (0, 1, -1, -1, 1), '(1)/(q^2)', (1, 0, 0, 1)]
+>>> [str(Series((1, 1), {(1, 0): 1, (0, 1): 1, (1, 1): Poly((0, 1))}).exponential().at((1, 1))), list(Series((2,), {(0,): 1, (1,): 2, (2,): 3}).logarithm().entries)]
+['q + 1', [(1,)]]
+"""
+
+PARTITIONS = """
+>>> [conjugate((4, 2, 2, 1)), joined_parts((3, 1), (2,)), product_number((2, 1), (2,)), partitions(4), len(partitions(18))]
+[(4, 3, 1, 1), (3, 2, 1), 3, ((1, 1, 1, 1), (2, 1, 1), (2, 2), (3, 1), (4,)), 385]
+>>> [turns_of(()).coefficients, turns_of((2,)).coefficients, turns_of((1, 1)).coefficients, tables_with((2,)).coefficients, tables_with((2, 1)).coefficients]
+[(1,), (0, -1, 1), (0, 1, -1, -1, 1), (-1, 0, 1), (-1, -1, 0, 1, 1)]
+>>> [ranks_of((3, 2, 2)), parts_of_ranks(7, (4, 1)), is_above((3, 1, 1, 1), (2, 2, 2)), is_above((2, 2, 2), (3, 1, 1, 1)), covers((4, 2))]
+[(4, 1), (3, 2, 2), False, False, ((3, 3), (4, 1, 1))]
+>>> [len(rows_of_parts((3, 2, 0))), rows_of_parts((1, 2))]
+[6, (((1,), (1, 1)), ((1,), (2,)))]
+>>> parts_of_ranks(3, (3,))
+raises InvalidOperation
+"""
+
+TABLES = """
+>>> A, T = Table(5, 2, 3, ((1, 2, 3), (0, 1, 4))), Table(5, 2, 2, ((1, 2), (3, 4)))
+>>> [A.rank, A.kernel(), A.image(), A.leading((1, 1, 1)), T.undone().rows, T.times(A).rows]
+[2, ((0, 1, 1),), ((1, 0), (0, 1)), (1, 0), ((3, 1), (4, 2)), ((1, 4, 1), (3, 0, 0))]
+>>> [len(list(turns(2, 2))), turn_number(3, 2), tables_of_rank(2, 2, 1) == Poly((-1, -1, 1, 1)), list(spaces(2, 2, 1))]
+[6, 48, True, [((0, 1),), ((1, 0),), ((1, 1),)]]
+>>> [base_of(5, 3, ((2, 4, 1), (1, 2, 3))), free_rest(5, 3, ((0, 3, 1),)), T.blocks(zero_table(5, 0, 1)).rows]
+[((1, 2, 3),), (0, 2), ((1, 2, 0), (3, 4, 0))]
+>>> A.undone()
+raises InvalidOperation
+"""
+
+PLANS = """
+>>> [THRICE.form((1, 1), (1, 2)), THRICE.form((1, 2), (1, 1)), THRICE.norm((2, 3)), THRICE.match((1, 0), (0, 1)), STAR.match_table[0]]
+[-3, 0, -5, -3, (2, -1, -1, -1)]
+>>> [THRICE.reflected((1, 2), 1), STAR.reflected((1, 1, 1, 1), 0), TWINS.reflected((1, 0), 0), BENT.turned_at(1).arrows, BENT.sinks(), BENT.sources()]
+[(1, 1), (2, 1, 1, 1), (-1, 0), ((1, 0), (2, 1), (0, 2)), (2,), (0,)]
+>>> [sort_of(STAR), sort_of(TWINS), sort_of(THRICE), sort_of(BENT), null_row(BENT), null_row(Plan.star(4)), null_row(STAR)]
+['finite', 'tame', 'wild', 'tame', (1, 1, 1), (2, 1, 1, 1, 1), None]
+>>> [Plan(4, ((0, 1), (2, 3))).pieces(), are_joined(BENT, (1, 0, 1)), are_joined(Plan.line(3), (1, 0, 1)), is_bad_row(THRICE, (1, 1)), is_bad_row(TWINS, (2, 2)), str(BENT.piece_plan((0, 2)))]
+[((0, 1), (2, 3)), True, False, True, True, 'plan of 2 points, arrows 0-1']
+>>> [Plan(2, ((0, 1), (1, 0))).has_ring, BENT.has_ring, is_sizes(BENT, (0, 0, 0)), is_sizes(BENT, (0, 7, 0))]
+[True, False, True, False]
+>>> Plan(2, ((0, 0),))
+raises InvalidPlan
+"""
+
+
+def all_names():
+    """The names of all modules, and the values that the examples use."""
+    names = {}
+    for module in (errors, numbers, polys, series, partitions, tables, plans):
+        names.update(vars(module))
+    exec(VALUES, names)
+    return names
+
+
+class Examples(Case):
+
+    def kept_by(self, error):
+        return [getattr(error, name) for name in ("value", "name", "wanted", "limit", "reason", "spot") if hasattr(error, name)]
+
+    def refused_as_told(self, line, told, names):
+        """The line raises the told error, which keeps what stands in parentheses."""
+        with self.assertRaises(Exception) as caught:
+            eval(line, names)
+        name, _, kept = told.partition("(")
+        self.assertIs(type(caught.exception), names[name])
+        if kept:
+            self.assertEqual(self.kept_by(caught.exception), [ast.literal_eval(kept[:-1])])
+
+    def check(self, text):
+        names, lines = all_names(), text.strip().split("\n")
+        for at, line in enumerate(lines):
+            if not line.startswith(">>> "):
+                continue
+            follows = lines[at + 1] if at + 1 < len(lines) else ">>> "
+            with self.subTest(line=line):
+                if follows.startswith(">>> "):
+                    exec(line[4:], names)
+                elif follows.startswith("raises "):
+                    self.refused_as_told(line[4:], follows[7:], names)
+                else:
+                    self.assertEqual(repr(eval(line[4:], names)), follows)
+
+    def test_numbers(self):
+        self.check(NUMBERS)
+
+    def test_polys(self):
+        self.check(POLYS)
+
+    def test_partitions(self):
+        self.check(PARTITIONS)
+
+    def test_tables(self):
+        self.check(TABLES)
+
+    def test_plans(self):
+        self.check(PLANS)
+
+
+if __name__ == "__main__":
+    unittest.main()

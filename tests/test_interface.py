@@ -1,0 +1,102 @@
+"""The interface: names, arguments, constants, and in which file each name is defined."""
+
+import importlib
+import inspect
+import unittest
+
+from tests.helpers import Case
+
+CONSTANTS = {
+    "base.numbers": {"MAX_NAME": 8, "MAX_FACTORED": 10 ** 9, "MAX_CHOSEN": 1000, "MAX_BELOW": 3000},
+    "poly.polys": {"MOST_DEGREE": 100},
+    "poly.series": {"MOST_TERMS": 60},
+    "slices.partitions": {"MAX_PARTS": 24, "MAX_LISTED": 18, "MAX_ROWS": 3000},
+    "grid.tables": {"MAX_SIDE": 36, "MAX_TURNS": 20000, "MAX_SPACES": 3000},
+    "chart.plans": {"MOST_POINTS": 6, "MOST_ARROWS": 9, "MOST_SIZE": 6},
+}
+
+FUNCTIONS = {
+    "base.numbers": (
+        "is_integer(value)", "is_name(value)", "is_prime(value)", "common_divisor(numbers)", "divisors(number)",
+        "moebius(number)", "binomial(top, low)", "fraction(top, bottom)", "rows_below(sizes)"),
+    "poly.polys": ("gauss(top, low)", "turn_count(size)", "power_of_q(many)"),
+    "poly.series": (),
+    "slices.partitions": (
+        "is_parts(value)", "total_of(parts)", "conjugate(parts)", "joined_parts(one, other)", "partitions(number)",
+        "rows_of_parts(sizes)", "product_number(one, other)", "turns_of(parts)", "tables_with(parts)", "ranks_of(parts)",
+        "parts_of_ranks(number, ranks)", "is_above(one, other)", "covers(parts)"),
+    "grid.tables": (
+        "idle_table(prime, size)", "zero_table(prime, height, width)", "base_of(prime, height, columns)",
+        "free_rest(prime, height, columns)", "turns(prime, size)", "turn_number(prime, size)",
+        "tables_of_rank(height, width, rank)", "spaces(prime, height, number)"),
+    "chart.plans": (
+        "is_sizes(plan, value)", "are_joined(plan, sizes)", "sort_of(plan)", "null_row(plan)", "bad_row(plan)",
+        "is_bad_row(plan, value)"),
+}
+
+CLASSES = {
+    "poly.polys": {
+        "Poly": ("__init__(self, coefficients)", "plus(self, other)", "minus(self, other)", "times(self, other)", "raised(self, many)",
+                 "spread(self, many)", "at(self, number)", "__eq__", "__len__", "__str__", "coefficients", "degree", "content"),
+        "Quotient": ("__init__(self, top, bottom=1)", "plus(self, other)", "minus(self, other)", "times(self, other)", "over(self, other)",
+                     "raised(self, many)", "spread(self, many)", "at(self, number)", "__eq__", "__str__", "top", "bottom", "is_whole"),
+    },
+    "poly.series": {
+        "Series": ("__init__(self, bound, entries)", "at(self, row)", "plus(self, other)", "times(self, other)", "exponential(self)",
+                   "logarithm(self)", "__eq__", "bound", "entries"),
+    },
+    "grid.tables": {
+        "Table": ("__init__(self, prime, height, width, rows)", "entry_at(self, row, column)", "plus(self, other)", "minus(self, other)",
+                  "times(self, other)", "scaled(self, number)", "leading(self, column)", "solved(self, column)", "kernel(self)",
+                  "image(self)", "swapped(self)", "undone(self)", "blocks(self, other)", "__eq__", "__str__", "prime", "height",
+                  "width", "rows", "rank", "is_turn"),
+    },
+    "chart.plans": {
+        "Plan": ("__init__(self, size, arrows)", "line(cls, size)", "star(cls, arms)", "twins(cls, many)", "form(self, one, other)",
+                 "match(self, one, other)", "norm(self, row)", "reflected(self, row, point)", "turned_at(self, point)",
+                 "opposite(self)", "ends_at(self, point)", "starts_at(self, point)", "sinks(self)", "sources(self)", "pieces(self)",
+                 "piece_plan(self, points)", "__eq__", "__str__", "size", "arrows", "has_ring", "match_table"),
+    },
+}
+
+
+def module_of(name):
+    return importlib.import_module("arrowsizes." + name)
+
+
+class Interface(Case):
+
+    def test_constants(self):
+        for name, told in CONSTANTS.items():
+            for constant, value in told.items():
+                self.same(getattr(module_of(name), constant), value)
+
+    def test_functions(self):
+        for name, told in FUNCTIONS.items():
+            for text in told:
+                function = getattr(module_of(name), text.partition("(")[0])
+                self.assertTrue(inspect.isfunction(function))
+                self.assertEqual(function.__module__, "arrowsizes." + name)
+                self.assertEqual(function.__name__ + str(inspect.signature(function)), text)
+
+    def test_classes(self):
+        for name, told in CLASSES.items():
+            for word, members in told.items():
+                owner = getattr(module_of(name), word)
+                self.assertEqual((owner.__module__, owner.__bases__), ("arrowsizes." + name, (object,)))
+                for text in members:
+                    member = text.partition("(")[0]
+                    self.assertIn(member, vars(owner))
+                    held = vars(owner)[member]
+                    if "(" in text:
+                        call = held.__func__ if isinstance(held, classmethod) else held
+                        self.assertEqual(call.__name__ + str(inspect.signature(call)), text)
+                    self.assertEqual("cls" in text, isinstance(held, classmethod))
+
+    def test_generators(self):
+        for text in ("turns", "spaces"):
+            self.assertTrue(inspect.isgeneratorfunction(getattr(module_of("grid.tables"), text)))
+
+
+if __name__ == "__main__":
+    unittest.main()
