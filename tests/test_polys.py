@@ -103,6 +103,14 @@ class Polys(Case):
                 self.assertEqual(list(told) + [0] * (len(found) - len(told)), found)
                 self.assertTrue(not told or told[-1] != 0)
 
+    def test_greatest_products(self):
+        most = 2 ** 190 - 1
+        for many in (1, 2, 31, 32, 63, 64, 101):
+            for sign in (1, -1):
+                told = [sign * most * most * min(at + 1, 2 * many - 1 - at) for at in range(2 * many - 1)]
+                found = Poly((most,) * many).times(Poly((sign * most,) * many))
+                self.assertEqual(found.coefficients, tuple(told))
+
     def test_with_integers(self):
         self.assertEqual(Poly((1, 2)).plus(3).coefficients, (4, 2))
         self.assertEqual(Poly((1, 2)).minus(1).coefficients, (0, 2))
@@ -200,6 +208,26 @@ class Quotients(Case):
                 shared = math.gcd(one, other)
                 self.assertEqual(Quotient(top, bottom).bottom.degree, other - shared)
                 self.lowest(Quotient(top, bottom), top, bottom)
+
+    def test_whole_ones_with_greater_coefficients(self):
+        for many in (3, 8, 14, 20, 26):
+            top, bottom = Poly((1,)), Poly((1,))
+            for power in range(1, many + 1):
+                top = top.times(Q.raised(power).times(Q.raised(many)).minus(1))
+                bottom = bottom.times(Q.raised(power).minus(1))
+            found = Quotient(top, bottom)
+            self.assertIs(found.is_whole, True)
+            self.assertEqual(found.top.times(bottom), top)
+            self.assertEqual(found.at(1), (math.comb(2 * many, many), 1))
+            self.assertEqual(Quotient(bottom.times(3), top.times(-2)), Quotient(-3, found.top.times(2)))
+
+    def test_shared_values_that_no_divisor_makes(self):
+        source = random.Random(5)
+        for _ in range(3000):
+            shared, left, right = [Poly((source.randint(-99, 99), source.randint(1, 9))) for _ in range(3)]
+            found = Quotient(shared.times(left).times(left), shared.times(right))
+            self.assertEqual(found, Quotient(left.times(left), right))
+            self.lowest(found, left.times(left), right)
 
     def test_edges(self):
         cases = ((0, -5, (), (1,)), (Poly(()), Q, (), (1,)), (6, -4, (-3,), (2,)), (1, 1, (1,), (1,)), (Q, Q, (1,), (1,)),

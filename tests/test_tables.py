@@ -122,6 +122,7 @@ class Making(Case):
         self.refuses(InvalidPrime, Table, 4, 37, True, None)
         self.refuses(InvalidCount, Table, 3, 37, True, None, value=37)
         self.refuses(InvalidCount, Table, 3, 36, True, None, value=True)
+        self.refuses(InvalidPrime, idle_table, 4, 37)
         self.refuses(InvalidPrime, zero_table, 1, -1, -2)
         self.refuses(InvalidCount, zero_table, 2, -1, -2, value=-1)
         self.refuses(InvalidPrime, base_of, 0, -1, 5)
