@@ -153,6 +153,11 @@ def all_choices(options):
     return found
 
 
+def unit_row(size, place):
+    """The row of so many integers with 1 at a place and 0 elsewhere."""
+    return tuple([1 if at == place else 0 for at in range(size)])
+
+
 def row_count(sizes):
     """How many rows are below a row."""
     found = 1

@@ -1,6 +1,6 @@
 """Plans: points and arrows between them."""
 
-from arrowsizes.base.numbers import are_counts, are_integers, check_count, is_count
+from arrowsizes.base.numbers import are_counts, are_integers, check_count, is_count, unit_row
 from arrowsizes.chart.minors import is_nowhere_negative, is_positive
 from arrowsizes.errors import InvalidPlan, InvalidPoint, InvalidSizes
 
@@ -90,7 +90,7 @@ class Plan:
         """A row of integers, reflected at a point."""
         self._check_row(row)
         self._check_point(point)
-        return _row_plus(row, point, -self.match(row, _unit_row(self._size, point)))
+        return _row_plus(row, point, -self.match(row, unit_row(self._size, point)))
 
     def turned_at(self, point):
         """The plan with all arrows at a point turned round."""
@@ -150,10 +150,6 @@ class Plan:
         told = " ".join([f"{start}-{goal}" for start, goal in self._arrows])
         arrows = f"arrows {told}" if told else "no arrows"
         return f"plan of {self._size} points, {arrows}"
-
-
-def _unit_row(size, point):
-    return tuple([1 if at == point else 0 for at in range(size)])
 
 
 def _row_plus(row, point, number):
@@ -223,7 +219,7 @@ def sort_of(plan):
 
 def _falling_points(plan, row):
     """The points whose unit rows have a match below 0 with the row: more there lets the norm fall or stay."""
-    units = [_unit_row(plan.size, point) for point in range(plan.size)]
+    units = [unit_row(plan.size, point) for point in range(plan.size)]
     return [point for point, unit in enumerate(units) if plan.match(row, unit) < 0]
 
 

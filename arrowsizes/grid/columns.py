@@ -3,12 +3,12 @@
 Nothing here bounds how many or how long the columns are.
 """
 
-from arrowsizes.base.numbers import all_choices
+from arrowsizes.base.numbers import all_choices, unit_row
 
 
 def idle_columns(size):
     """The columns with a single 1, one for each index."""
-    return tuple([tuple([1 if at == place else 0 for at in range(size)]) for place in range(size)])
+    return tuple([unit_row(size, place) for place in range(size)])
 
 
 def swapped_rows(rows, width):

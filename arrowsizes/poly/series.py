@@ -114,15 +114,16 @@ def _product_at(row, one, other):
     return found
 
 
-def _rate_sum(row, powers, found):
-    """The entry at a row of what comes of some powers' sum h as exp(h), the entries before it being found.
+def _rate_sum(row, moved, found):
+    """The entry at a row of the sum of all h ** k / k!, told by its earlier entries and by those of h.
 
-    By the rule for rates of change along one letter, the entry at e, times e there, is the sum of
-    the entries of h at f, times f there, times the entries at e - f. An unknown entry of h counts as 0.
+    Rates of change along one letter tell it: the entry at e, times e there, is the sum over all f
+    of the entry of h at f, times f there, times the entry at e - f. This needs no powers of h. An
+    entry that h does not have yet counts as 0.
     """
     place = [at for at, size in enumerate(row) if size > 0][0]
     total = Quotient(0)
-    for part, entry in powers.items():
+    for part, entry in moved.items():
         rest = _difference(row, part)
         if part[place] > 0 and rest in found:
             total = total.plus(entry.times(found[rest]).times(part[place]))
