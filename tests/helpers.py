@@ -5,6 +5,7 @@ import unittest
 
 from arrowsizes.chart.plans import Plan
 from arrowsizes.errors import InvalidCount
+from arrowsizes.fill.fillings import Filling
 from arrowsizes.grid.tables import Table
 from arrowsizes.poly.polys import Poly, Quotient
 from arrowsizes.poly.series import Series
@@ -16,6 +17,7 @@ SIXTY_ONE = 10 ** 60
 OTHERS = (
     True, False, None, "", "1", "Ab", "a" * 4000, (), (1,), (True,), ((),), [], [1], {}, {1: 1}, {(0,): 1},
     Poly((1,)), Quotient(1), Series((1,), {}), Table(2, 1, 1, ((1,),)), Plan(1, ()),
+    Filling(Plan(1, ()), 2, (1,), ()),
 )
 
 NO_TUPLES = tuple([value for value in OTHERS if not isinstance(value, tuple)]) + (0, 1, SIXTY_ONE)

@@ -6,9 +6,12 @@ import unittest
 from arrowsizes import errors
 from arrowsizes.base import numbers
 from arrowsizes.chart import plans
+from arrowsizes.fill import fillings
 from arrowsizes.grid import tables
+from arrowsizes.origin import roots
 from arrowsizes.poly import polys, series
 from arrowsizes.slices import partitions
+from arrowsizes.split import splits
 from tests.helpers import Case
 
 VALUES = """
@@ -77,11 +80,56 @@ PLANS = """
 raises InvalidPlan
 """
 
+ROOTS = """
+>>> CHAIN = Plan.line(3)
+>>> [root_paper(THRICE, (3, 3)), is_root_paper(THRICE, (3, 1), ("real", (0,), 1)), is_root_paper(THRICE, (4, 1), ("below", (), 0)), is_root(STAR, (2, 1, 1, 1)), is_root(CHAIN, (1, 0, 1))]
+[('imaginary', (), (3, 3)), True, True, True, False]
+>>> [roots_to(CHAIN, (2, 2, 2)), len(roots_to(STAR, (2, 2, 2, 2))), roots_to(THRICE, (3, 1))]
+[((0, 0, 1), (0, 1, 0), (0, 1, 1), (1, 0, 0), (1, 1, 0), (1, 1, 1)), 12, ((0, 1), (1, 0), (1, 1), (2, 1), (3, 1))]
+>>> [multiplicity(THRICE, (3, 3)), multiplicity(BENT, (2, 2, 2)), multiplicity(TWINS, (4, 4)), sum_number(TWINS, (2, 2)), sum_number(CHAIN, (2, 2, 0)), multiplicities(TWINS, (2, 1))]
+[3, 2, 1, (3, 2), (1, 2), {(0, 1): 1, (1, 0): 1, (1, 1): 1, (2, 1): 1}]
+>>> [signed_sizes(TWINS, (4, 4)), root_paper(Plan(4, ((0, 1), (0, 1), (2, 3), (2, 3))), (1, 1, 1, 1))]
+[{(0, 0): 1, (0, 1): -1, (1, 0): -1, (1, 3): 1, (3, 1): 1}, ('apart', (), (1, 1, 1, 1))]
+>>> root_paper(CHAIN, (0, 0, 0))
+raises InvalidOperation
+"""
+
+FILLINGS = """
+>>> LINE, ONE = Plan.line(2), Table(2, 1, 1, ((1,),))
+>>> EYE, HEAD, TAIL = Filling(LINE, 2, (1, 1), (ONE,)), Filling.single(LINE, 2, 0), Filling.single(LINE, 2, 1)
+>>> [hom_number(TAIL, EYE), hom_number(EYE, TAIL), hom_number(EYE, HEAD), ext_number(HEAD, TAIL), ext_number(EYE, EYE), str(EYE), EYE.total]
+[1, 0, 1, 1, 0, 'filling of (1, 1) over 2', 2]
+>>> FLAT = HEAD.summed(TAIL)
+>>> [FLAT == Filling.zero(LINE, 2, (1, 1)), hom_number(FLAT, FLAT), ext_number(FLAT, FLAT), EYE.turned_over().plan == LINE.opposite()]
+[True, 2, 1, True]
+>>> ALL = ((1,),)
+>>> [is_sub(EYE, ((), ALL)), is_sub(EYE, (ALL, ())), sub_filling(EYE, ((), ALL)) == TAIL, quotient_filling(EYE, ((), ALL)) == HEAD, is_hom(EYE, EYE, (ONE, ONE))]
+[True, False, True, True, True]
+>>> EYE.summed(Filling.zero(LINE, 3, (1, 1)))
+raises InvalidOperation
+"""
+
+SPLITS = """
+>>> EYE, TURN, STEP, NONE = idle_table(2, 2), Table(2, 2, 2, ((0, 1), (1, 1))), Table(2, 2, 2, ((0, 1), (0, 0))), zero_table(2, 2, 2)
+>>> ROUND, RUNG, FLAT = [Filling(TWINS, 2, (2, 2), (EYE, table)) for table in (TURN, STEP, NONE)]
+>>> [is_unsplittable(ROUND), field_degree(ROUND), is_firm(ROUND), field_degree(RUNG), is_unsplittable(FLAT)]
+[True, 2, False, 1, False]
+>>> ONE = Filling(TWINS, 2, (1, 1), (idle_table(2, 1), zero_table(2, 1, 1)))
+>>> [part_sizes(ROUND), part_sizes(FLAT), times_in(ONE, FLAT), times_in(ONE, RUNG), are_alike(FLAT, ONE.summed(ONE)), are_alike(FLAT, RUNG)]
+[(((2, 2), 2),), (((1, 1), 1), ((1, 1), 1)), 2, 0, True, False]
+>>> [is_parts(FLAT, (ONE, ONE)), is_parts(FLAT, parts_of(FLAT)), parts_of(Filling.zero(TWINS, 2, (0, 0)))]
+[True, True, ()]
+>>> [is_likeness(ROUND, ROUND, (TURN, TURN)), is_likeness(ROUND, ROUND, (EYE, TURN))]
+[True, False]
+>>> times_in(FLAT, ONE)
+raises InvalidOperation
+"""
+
 
 def all_names():
     """The names of all modules, and the values that the examples use."""
     names = {}
-    for module in (errors, numbers, polys, series, partitions, tables, plans):
+    for module in (errors, numbers, polys, series, partitions, tables, plans, roots, fillings, splits):
         names.update(vars(module))
     exec(VALUES, names)
     return names
@@ -129,6 +177,15 @@ class Examples(Case):
 
     def test_plans(self):
         self.check(PLANS)
+
+    def test_roots(self):
+        self.check(ROOTS)
+
+    def test_fillings(self):
+        self.check(FILLINGS)
+
+    def test_splits(self):
+        self.check(SPLITS)
 
 
 if __name__ == "__main__":

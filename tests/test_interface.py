@@ -13,6 +13,9 @@ CONSTANTS = {
     "slices.partitions": {"MAX_PARTS": 24, "MAX_LISTED": 18, "MAX_ROWS": 3000},
     "grid.tables": {"MAX_SIDE": 36, "MAX_TURNS": 20000, "MAX_SPACES": 3000},
     "chart.plans": {"MOST_POINTS": 6, "MOST_ARROWS": 9, "MOST_SIZE": 6},
+    "origin.roots": {"MAX_ROWS": 400},
+    "fill.fillings": {},
+    "split.splits": {"MAX_SPLIT": 12},
 }
 
 FUNCTIONS = {
@@ -32,6 +35,18 @@ FUNCTIONS = {
     "chart.plans": (
         "is_sizes(plan, value)", "are_joined(plan, sizes)", "sort_of(plan)", "null_row(plan)", "bad_row(plan)",
         "is_bad_row(plan, value)"),
+    "origin.roots": (
+        "root_paper(plan, sizes)", "is_root_paper(plan, sizes, value)", "is_root(plan, sizes)", "roots_to(plan, sizes)",
+        "sum_number(plan, sizes)", "multiplicity(plan, sizes)", "multiplicities(plan, sizes)", "signed_sizes(plan, sizes)"),
+    "fill.fillings": (
+        "is_hom(one, other, value)", "hom_number(one, other)", "ext_number(one, other)", "hom_base(one, other)",
+        "is_hom_base(one, other, value)", "is_sub(filling, value)", "plain_spaces(filling, spaces)", "sub_filling(filling, spaces)",
+        "quotient_filling(filling, spaces)", "kernel_of(one, other, hom)", "image_of(one, other, hom)"),
+    "split.splits": (
+        "is_unsplittable(filling)", "field_degree(filling)", "is_firm(filling)", "idempotent_of(filling)",
+        "is_idempotent(filling, value)", "halves_of(filling, idempotent)", "parts_of(filling)", "is_parts(filling, value)",
+        "part_sizes(filling)", "times_in(one, other)", "are_alike(one, other)", "any_likeness(one, other)",
+        "is_likeness(one, other, value)"),
 }
 
 CLASSES = {
@@ -56,6 +71,11 @@ CLASSES = {
                  "match(self, one, other)", "norm(self, row)", "reflected(self, row, point)", "turned_at(self, point)",
                  "opposite(self)", "ends_at(self, point)", "starts_at(self, point)", "sinks(self)", "sources(self)", "pieces(self)",
                  "piece_plan(self, points)", "__eq__", "__str__", "size", "arrows", "has_ring", "match_table"),
+    },
+    "fill.fillings": {
+        "Filling": ("__init__(self, plan, prime, sizes, tables)", "zero(cls, plan, prime, sizes)", "single(cls, plan, prime, point)",
+                    "summed(self, other)", "changed(self, turns)", "turned_over(self)", "__eq__", "__str__", "plan", "prime", "sizes",
+                    "tables", "total"),
     },
 }
 

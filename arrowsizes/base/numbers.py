@@ -158,6 +158,16 @@ def unit_row(size, place):
     return tuple([1 if at == place else 0 for at in range(size)])
 
 
+def row_less(row, other):
+    """The differences of the integers at equal indices."""
+    return tuple([number - less for number, less in zip(row, other)])
+
+
+def row_over(row, many):
+    """The integers, divided by an integer that divides all of them."""
+    return tuple([number // many for number in row])
+
+
 def row_count(sizes):
     """How many rows are below a row."""
     found = 1

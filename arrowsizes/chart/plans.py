@@ -89,12 +89,12 @@ class Plan:
     def reflected(self, row, point):
         """A row of integers, reflected at a point."""
         self._check_row(row)
-        self._check_point(point)
+        check_point(self, point)
         return _row_plus(row, point, -self.match(row, unit_row(self._size, point)))
 
     def turned_at(self, point):
         """The plan with all arrows at a point turned round."""
-        self._check_point(point)
+        check_point(self, point)
         return Plan(self._size, tuple([arrow[::-1] if point in arrow else arrow for arrow in self._arrows]))
 
     def opposite(self):
@@ -103,12 +103,12 @@ class Plan:
 
     def ends_at(self, point):
         """The ascending tuple of the indices of the arrows that end at a point."""
-        self._check_point(point)
+        check_point(self, point)
         return tuple([at for at, arrow in enumerate(self._arrows) if arrow[1] == point])
 
     def starts_at(self, point):
         """The ascending tuple of the indices of the arrows that start at a point."""
-        self._check_point(point)
+        check_point(self, point)
         return tuple([at for at, arrow in enumerate(self._arrows) if arrow[0] == point])
 
     def sinks(self):
@@ -134,10 +134,6 @@ class Plan:
         if not are_counts(value, 0, self._size - 1) or not value:
             return False
         return all([value[at] < value[at + 1] for at in range(len(value) - 1)])
-
-    def _check_point(self, value):
-        if not is_count(value, 0, self._size - 1):
-            raise InvalidPoint("no point of the plan")
 
     def _check_row(self, value):
         if not are_integers(value) or len(value) != self._size:
@@ -189,28 +185,45 @@ def _pieces(size, arrows):
     return tuple([piece for piece in pieces if piece])
 
 
-def _check_plan(value):
+def check_plan(value):
+    """Raise InvalidPlan unless the value is a plan."""
     if not isinstance(value, Plan):
         raise InvalidPlan("no plan")
 
 
 def is_sizes(plan, value):
     """Whether the value is sizes of the plan."""
-    _check_plan(plan)
+    check_plan(plan)
     return are_counts(value, 0, MOST_SIZE) and len(value) == plan.size
+
+
+def check_sizes(plan, value):
+    """Raise InvalidPlan unless the first value is a plan, and InvalidSizes unless the second one is sizes of it."""
+    if not is_sizes(plan, value):
+        raise InvalidSizes("no sizes of the plan")
+
+
+def is_point(plan, value):
+    """Whether the value is a point of the plan."""
+    return is_count(value, 0, plan.size - 1)
+
+
+def check_point(plan, value):
+    """Raise InvalidPoint unless the value is a point of the plan."""
+    if not is_point(plan, value):
+        raise InvalidPoint("no point of the plan")
 
 
 def are_joined(plan, sizes):
     """Whether the points with a size above 0 hang together by arrows between them alone."""
-    if not is_sizes(plan, sizes):
-        raise InvalidSizes("no sizes of the plan")
+    check_sizes(plan, sizes)
     points = tuple([point for point, size in enumerate(sizes) if size > 0])
     return len(points) > 0 and len(plan.piece_plan(points).pieces()) == 1
 
 
 def sort_of(plan):
     """The text "finite", "tame" or "wild"."""
-    _check_plan(plan)
+    check_plan(plan)
     rows = plan.match_table
     if is_positive(rows):
         return _FINITE

@@ -170,6 +170,11 @@ def table_of(prime, height, width, rows):
     return Table(prime, height, width, tuple([tuple([number % prime for number in row]) for row in rows]))
 
 
+def table_with(prime, height, columns):
+    """The table with these columns."""
+    return Table(prime, height, len(columns), swapped_rows(columns, height))
+
+
 def idle_table(prime, size):
     """The table that leads each column to itself."""
     check_prime(prime)

@@ -1,6 +1,7 @@
 """Series of quotients, one for each row up to a bound."""
 
-from arrowsizes.base.numbers import greatest_divisor, is_integer, is_row, moebius, row_count, rows_to
+from arrowsizes.base.numbers import greatest_divisor, is_integer, is_row, moebius
+from arrowsizes.base.numbers import row_count, row_less, row_over, rows_to
 from arrowsizes.errors import InvalidOperation, InvalidSizes
 from arrowsizes.poly.polys import Poly, Quotient
 
@@ -31,10 +32,6 @@ def _as_quotient(entry):
 
 def _is_zero(quotient):
     return quotient.top.degree < 0
-
-
-def _difference(row, other):
-    return tuple([size - less for size, less in zip(row, other)])
 
 
 class Series:
@@ -108,7 +105,7 @@ def _product_at(row, one, other):
     """The entry of the product of two dicts of entries at a row."""
     found = Quotient(0)
     for part, entry in one.items():
-        rest = _difference(row, part)
+        rest = row_less(row, part)
         if rest in other:
             found = found.plus(entry.times(other[rest]))
     return found
@@ -124,7 +121,7 @@ def _rate_sum(row, moved, found):
     place = [at for at, size in enumerate(row) if size > 0][0]
     total = Quotient(0)
     for part, entry in moved.items():
-        rest = _difference(row, part)
+        rest = row_less(row, part)
         if part[place] > 0 and rest in found:
             total = total.plus(entry.times(found[rest]).times(part[place]))
     return total.over(row[place])
@@ -138,7 +135,7 @@ def _spread_sum(row, entries, signed):
     total = Quotient(0)
     shared = greatest_divisor(row)
     for many in range(1, shared + 1):
-        part = tuple([size // many for size in row])
+        part = row_over(row, many)
         if shared % many == 0 and part in entries:
             sign = moebius(many) if signed else 1
             total = total.plus(entries[part].spread(many).times(Quotient(sign, many)))

@@ -1,0 +1,1 @@
+"""Fillings of plans."""

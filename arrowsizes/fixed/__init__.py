@@ -1,0 +1,1 @@
+"""Kinds of fillings, by fixed fillings."""

@@ -1,0 +1,1 @@
+"""Mirrored fillings, and plans of the finite sort."""

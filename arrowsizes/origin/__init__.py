@@ -1,0 +1,1 @@
+"""Roots of plans and their multiplicities."""

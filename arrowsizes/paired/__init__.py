@@ -1,0 +1,1 @@
+"""Pairs of fillings."""

@@ -1,0 +1,1 @@
+"""Fillings, split into parts."""
