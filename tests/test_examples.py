@@ -6,9 +6,13 @@ import unittest
 from arrowsizes import errors
 from arrowsizes.base import numbers
 from arrowsizes.chart import plans
+from arrowsizes.counted import counts
 from arrowsizes.fill import fillings
+from arrowsizes.fixed import kinds
 from arrowsizes.grid import tables
+from arrowsizes.mirror import mirrors
 from arrowsizes.origin import roots
+from arrowsizes.paired import pairs
 from arrowsizes.poly import polys, series
 from arrowsizes.slices import partitions
 from arrowsizes.split import splits
@@ -125,11 +129,70 @@ SPLITS = """
 raises InvalidOperation
 """
 
+MIRRORS = """
+>>> LONG = filling_of_root(CHAIN, 5, (1, 1, 1))
+>>> [mirrored(LONG, 2).sizes, mirrored(LONG, 0).sizes, mirrored(mirrored(LONG, 2), 2).sizes, point_parts(LONG, 2)]
+[(1, 1, 0), (0, 1, 1), (1, 1, 1), 0]
+>>> [is_sink_word(CHAIN, (1, 1, 1), ((2, 1), 0)), is_sink_word(CHAIN, (1, 1, 1), ((0,), 1)), is_sink_word(CHAIN, (0, 0, 1), ((), 2)), len(finite_roots(Plan.line(4)))]
+[True, False, True, 10]
+>>> [hom_table(CHAIN)[((0, 1, 1), (1, 1, 1))], hom_table(CHAIN)[((1, 1, 1), (0, 1, 1))], hom_table(CHAIN)[((1, 1, 1), (1, 1, 0))], root_parts(LONG.summed(LONG)), root_sums(CHAIN, (1, 1, 1)), root_sums(CHAIN, (2, 2, 2))]
+[1, 0, 1, {(1, 1, 1): 2}, 4, 10]
+>>> filling_of_root(CHAIN, 2, (1, 0, 1))
+raises InvalidOperation
+"""
+
+KINDS = """
+>>> [kinds_number(TWINS, sizes, 2) for sizes in ((1, 1), (2, 1), (2, 2))], kinds_number(TWINS, (1, 1), 3), kinds_number(STAR, (2, 1, 1, 1), 3)
+([4, 5, 16], 5, 15)
+>>> [unsplittable_number(TWINS, sizes, 2) for sizes in ((1, 1), (2, 0), (2, 1), (2, 2))], unsplittable_number(STAR, (2, 1, 1, 1), 2), kinds_mass(TWINS, (1, 1), 3)
+([3, 0, 1, 4], 1, (9, 4))
+>>> KINDS = list(all_kinds(TWINS, (1, 1), 3))
+>>> [[one.tables[0].rows + one.tables[1].rows for one in KINDS], [keepers_number(one) for one in KINDS], [orbit_number(one) for one in KINDS]]
+[[((0,), (0,)), ((0,), (1,)), ((1,), (0,)), ((1,), (1,)), ((1,), (2,))], [4, 2, 2, 2, 2], [1, 2, 2, 2, 2]]
+>>> IDLE = (idle_table(2, 2), idle_table(2, 2))
+>>> [fixed_number(TWINS, IDLE), are_turns_for(TWINS, (2, 2), IDLE), are_turns_for(TWINS, (2, 1), IDLE)]
+[256, True, False]
+>>> kinds_number(TWINS, (4, 4), 2)
+raises TooMany(20000)
+"""
+
+COUNTS = """
+>>> [firm_poly(TWINS, (2, 2)).coefficients, firm_poly(THRICE, (2, 2)).coefficients, firm_poly(THRICE, (2, 3)).coefficients, firm_poly(STAR, (2, 1, 1, 0)).coefficients]
+[(1, 1), (1, 3, 3, 3, 1, 1), (2, 3, 5, 4, 3, 1, 1), ()]
+>>> [firm_poly(BENT, (2, 2, 1)).coefficients, firm_poly(Plan.star(4), (2, 1, 1, 1, 1)).coefficients, firm_poly(Plan(2, ((0, 1), (1, 0))), (1, 1)).coefficients]
+[(1,), (4, 1), (1, 1)]
+>>> [kinds_at(TWINS, (2, 2), 2), kinds_at(THRICE, (2, 2), 2), kinds_at(STAR, (2, 1, 1, 1), 2), kinds_at(Plan.star(4), (2, 1, 1, 1, 1), 3), kinds_at(BENT, (0, 0, 0), 2)]
+[16, 148, 15, 52, 1]
+>>> [unsplittable_at(TWINS, (2, 2), 2), unsplittable_at(THRICE, (2, 2), 2), [unsplittable_at(TWINS, (3, 3), q) for q in (2, 3)]]
+[4, 98, [5, 12]]
+>>> [joining_poly(BENT).coefficients, joining_sets(BENT), joining_poly(Plan(2, ())).coefficients]
+[(2, 1), ((0, 1), (0, 1, 2), (0, 2), (1, 2)), ()]
+>>> [taken_apart({(0,): 1, (1,): 2, (2,): 4}), put_together({(1,): 2, (2,): 1}), partition_sum(TWINS, (1, 0)) == Quotient(Poly((1,)), Poly((-1, 1)))]
+[{(1,): 2, (2,): 1}, {(0,): 1, (1,): 2, (2,): 4}, True]
+>>> firm_poly(TWINS, (0, 0))
+raises InvalidSizes
+"""
+
+PAIRS = """
+>>> X = Filling(TWINS, 3, (1, 1), (Table(3, 1, 1, ((1,),)), Table(3, 1, 1, ((2,),))))
+>>> Y = Filling(TWINS.opposite(), 3, (1, 1), (Table(3, 1, 1, ((1,),)), Table(3, 1, 1, ((0,),))))
+>>> [[table.rows for table in pair_sums(X, Y)], is_pair_told(X, Y, (2, 1)), is_pair_told(X, Y, (-1, 4)), lifts_number(X, (2, 1)), lifts_number(X, (1, 1))]
+[[((2,),), ((1,),)], True, True, 3, 0]
+>>> [lift_paper(X, (1, 2))[0], lift_paper(X, (1, 1))[0], is_lift_paper(X, (2, 1), ("lift", Y)), is_lift_paper(X, (1, 1), ("hom", (Table(3, 1, 1, ((1,),)), Table(3, 1, 1, ((1,),)))))]
+['lift', 'hom', True, True]
+>>> [are_general(TWINS, 3, (2, 1), (1, 1)), are_general(TWINS, 2, (2, 1), (1, 1)), are_general(TWINS, 3, (1, 1), (1, 2)), pairs_number(TWINS, 3, (1, 1), (0, 0)), pairs_number(TWINS, 3, (2, 1), (1, 1)), pairs_number(TWINS, 2, (2, 1), (1, 1))]
+[True, False, True, 33, 48, 0]
+>>> [pairs_poly(TWINS, (1, 1)).coefficients, pairs_poly(TWINS, (2, 1)).at(2), pairs_poly(TWINS, (2, 1)).at(3)]
+[(0, -1, 1, 1), 58, 417]
+>>> are_general(TWINS, 3, (0, 0), (1, 2))
+raises InvalidOperation
+"""
+
 
 def all_names():
     """The names of all modules, and the values that the examples use."""
     names = {}
-    for module in (errors, numbers, polys, series, partitions, tables, plans, roots, fillings, splits):
+    for module in (errors, numbers, polys, series, partitions, tables, plans, roots, fillings, splits, mirrors, kinds, counts, pairs):
         names.update(vars(module))
     exec(VALUES, names)
     return names
@@ -186,6 +249,19 @@ class Examples(Case):
 
     def test_splits(self):
         self.check(SPLITS)
+
+    def test_mirrors(self):
+        """These examples use the chain of the sixth stage."""
+        self.check(">>> CHAIN = Plan.line(3)" + MIRRORS)
+
+    def test_kinds(self):
+        self.check(KINDS)
+
+    def test_counts(self):
+        self.check(COUNTS)
+
+    def test_pairs(self):
+        self.check(PAIRS)
 
 
 if __name__ == "__main__":

@@ -16,6 +16,10 @@ CONSTANTS = {
     "origin.roots": {"MAX_ROWS": 400},
     "fill.fillings": {},
     "split.splits": {"MAX_SPLIT": 12},
+    "mirror.mirrors": {},
+    "fixed.kinds": {"MAX_TURNED": 20000, "MAX_FILLED": 4096},
+    "counted.counts": {"MOST_ROWS": 400, "MOST_FIELD": 100},
+    "paired.pairs": {"MAX_PAIRED": 4096, "MAX_LIFTED": 12},
 }
 
 FUNCTIONS = {
@@ -47,6 +51,20 @@ FUNCTIONS = {
         "is_idempotent(filling, value)", "halves_of(filling, idempotent)", "parts_of(filling)", "is_parts(filling, value)",
         "part_sizes(filling)", "times_in(one, other)", "are_alike(one, other)", "any_likeness(one, other)",
         "is_likeness(one, other, value)"),
+    "mirror.mirrors": (
+        "mirrored(filling, point)", "point_parts(filling, point)", "sink_word(plan, sizes)", "is_sink_word(plan, sizes, value)",
+        "filling_of_root(plan, prime, sizes)", "finite_roots(plan)", "hom_table(plan)", "root_parts(filling)", "root_sums(plan, sizes)"),
+    "fixed.kinds": (
+        "are_turns_for(plan, sizes, value)", "fixed_number(plan, turned)", "kinds_number(plan, sizes, prime)",
+        "unsplittable_number(plan, sizes, prime)", "kinds_mass(plan, sizes, prime)", "all_kinds(plan, sizes, prime)",
+        "keepers_number(filling)", "orbit_number(filling)"),
+    "counted.counts": (
+        "partition_sum(plan, sizes)", "firm_poly(plan, sizes)", "firm_polys(plan, sizes)", "kinds_at(plan, sizes, number)",
+        "unsplittable_at(plan, sizes, number)", "joining_poly(plan)", "joining_sets(plan)", "taken_apart(kinds)", "put_together(parts)"),
+    "paired.pairs": (
+        "pair_sums(filling, other)", "is_pair_told(filling, other, numbers)", "lift_paper(filling, numbers)",
+        "is_lift_paper(filling, numbers, value)", "lifts_number(filling, numbers)", "are_general(plan, prime, sizes, numbers)",
+        "pairs_number(plan, prime, sizes, numbers)", "pairs_poly(plan, sizes)"),
 }
 
 CLASSES = {
@@ -114,8 +132,8 @@ class Interface(Case):
                     self.assertEqual("cls" in text, isinstance(held, classmethod))
 
     def test_generators(self):
-        for text in ("turns", "spaces"):
-            self.assertTrue(inspect.isgeneratorfunction(getattr(module_of("grid.tables"), text)))
+        for module, text in (("grid.tables", "turns"), ("grid.tables", "spaces"), ("fixed.kinds", "all_kinds")):
+            self.assertTrue(inspect.isgeneratorfunction(getattr(module_of(module), text)))
 
 
 if __name__ == "__main__":

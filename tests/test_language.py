@@ -261,7 +261,7 @@ class Language(unittest.TestCase):
             for node in ast.walk(tree):
                 if isinstance(node, ast.Call):
                     word = node.func.id if isinstance(node.func, ast.Name) else node.func.attr
-                    if word in ("zip", "enumerate", "reversed", "range", "items", "keys", "values", "turns", "spaces"):
+                    if word in ("zip", "enumerate", "reversed", "range", "items", "keys", "values", "turns", "spaces", "all_kinds"):
                         self.assertIn(id(node), at_once, f"{path}:{node.lineno}")
 
     def test_numbers_and_strings(self):

@@ -51,7 +51,16 @@ def lots_of_shares(bound, shares):
     return lots
 
 
-def part_of_lots(row, lots, shares, parts):
-    """The part at a row, by the lots up to it, and by the shares and parts at all earlier rows."""
-    share = SHARES * lots[row] - rate_sum(row, shares, lots) // row[place_of(row)]
-    return (share - share_of(row, parts)) // SHARES
+def parts_of_lots(bound, lots):
+    """The dict from all rows up to the bound other than 0 to the parts whose lots these are."""
+    shares, parts = {}, {}
+    for row in rows_to(bound)[1:]:
+        share = SHARES * lots[row] - rate_sum(row, shares, lots) // row[place_of(row)]
+        parts[row] = (share - share_of(row, parts)) // SHARES
+        shares[row] = share
+    return parts
+
+
+def lots_of_parts(bound, parts):
+    """The dict from all rows up to the bound to the numbers of lots of the parts."""
+    return lots_of_shares(bound, {row: share_of(row, parts) for row in rows_to(bound)[1:]})

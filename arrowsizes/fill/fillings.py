@@ -129,6 +129,14 @@ class Filling:
         return f"filling of ({told}) over {self._prime}"
 
 
+def filling_of_rows(plan, prime, sizes, tables):
+    """The filling whose tables have these rows."""
+    made = []
+    for (start, goal), rows in zip(plan.arrows, tables):
+        made.append(Table(prime, sizes[goal], sizes[start], rows))
+    return Filling(plan, prime, sizes, tuple(made))
+
+
 def _is_hom_shape(one, other, value):
     """Whether the value is a tuple of tables for the points that lead from the one filling to the other one."""
     if not isinstance(value, tuple) or len(value) != one.plan.size:

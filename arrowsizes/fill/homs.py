@@ -44,7 +44,7 @@ def hom_and_ext(one, other):
     return many - rank, len(rows) - rank
 
 
-def _maps_of(entries, sides):
+def maps_of(entries, sides):
     """The tuple of the rows of tables with these sides (height, width), by the row of all their entries."""
     found, begin = [], 0
     for high, wide in sides:
@@ -57,7 +57,7 @@ def hom_maps(one, other):
     """The list of the homs of a base, each one as the tuple of the rows of its tables."""
     rows, many = _equations(one, other)
     sides = list(zip(other.sizes, one.sizes))
-    return [_maps_of(entries, sides) for entries in kernel_columns(one.prime, rows, many)]
+    return [maps_of(entries, sides) for entries in kernel_columns(one.prime, rows, many)]
 
 
 def flat_row(maps):

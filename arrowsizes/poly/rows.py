@@ -131,9 +131,22 @@ def power_row(row, many):
     return found
 
 
-def _row_without(row, factor):
+def row_without(row, factor):
     """The row, divided by an integer that divides all of it."""
     return tuple([number // factor for number in row])
+
+
+def exact_row(row, part):
+    """The row, divided by a part of it whose last coefficient is 1."""
+    rest, found = list(row), []
+    while len(rest) >= len(part):
+        factor, begin = rest[-1], len(rest) - len(part)
+        if factor:
+            for at, number in enumerate(part):
+                rest[begin + at] -= factor * number
+        rest.pop()
+        found.append(factor)
+    return trimmed(found[::-1])
 
 
 def _exact_quotient(row, part, bits):
@@ -148,7 +161,7 @@ def _exact_quotient(row, part, bits):
 def _common_primitive(one, other, bits):
     """What may be the common divisor of both rows, as their values at 2 to the power bits tell it."""
     found = _row_packed_as(gcd(_packed(one, bits), _packed(other, bits)), bits)
-    return _row_without(found, greatest_divisor(found))
+    return row_without(found, greatest_divisor(found))
 
 
 def common_row(one, other):
@@ -158,7 +171,7 @@ def common_row(one, other):
     one: a greater one would have another value there. With more bits it comes sooner or later.
     """
     shared = gcd(greatest_divisor(one), greatest_divisor(other))
-    left, right = _row_without(one, shared), _row_without(other, shared)
+    left, right = row_without(one, shared), row_without(other, shared)
     bits = max(_bits_of(left), _bits_of(right)) + _SPARE_BITS
     while True:
         common = _common_primitive(left, right, bits)
