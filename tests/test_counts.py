@@ -125,9 +125,10 @@ class Sums(Case):
         """Four hundred rows of partitions: so many go, and no more."""
         calls = (partition_sum, firm_poly, firm_polys, lambda plan, sizes: kinds_at(plan, sizes, 2), lambda plan, sizes: unsplittable_at(plan, sizes, 2))
         for call in calls:
-            for plan, sizes in ((BARE, (6, 4)), (Plan.twins(9), (5, 5)), (RING, (3, 3, 3)), (Plan(4, ()), (2, 2, 2, 2)), (Plan(6, ()), (2, 2, 2, 1, 0, 0))):
+            for plan, sizes in ((BARE, (6, 4)), (Plan.twins(9), (5, 5)), (RING, (3, 3, 3)), (Plan(4, ()), (2, 2, 2, 2)), (Plan(6, ()), (2, 2, 2, 1, 0, 0)),
+                                (Plan.line(4), (3, 3, 2, 1))):
                 call(plan, sizes)
-            for plan, sizes in ((BARE, (6, 5)), (RING, (3, 3, 4)), (Plan(6, ()), (2, 2, 2, 1, 1, 1)), (FULL, (6,) * 6), (Plan(5, ()), (2, 2, 2, 2, 1)), (Plan.twins(9), (6, 6))):
+            for plan, sizes in ((BARE, (6, 5)), (CHAIN, (6, 3, 1)), (RING, (3, 3, 4)), (Plan(6, ()), (2, 2, 2, 1, 1, 1)), (FULL, (6,) * 6), (Plan(5, ()), (2, 2, 2, 2, 1)), (Plan.twins(9), (6, 6))):
                 self.refuses(TooMany, call, plan, sizes, limit=400)
 
     def test_errors(self):
@@ -332,6 +333,8 @@ class Lots(Case):
         for number in (0, 2, -1):
             self.refuses(InvalidSizes, taken_apart, {**right, (0, 0): number})
         self.refuses(InvalidSizes, put_together, right)
+        for key in ((0, 1), (1, 0), (1, 1)):
+            self.refuses(InvalidSizes, put_together, {row: many for row, many in right.items() if row != key})
         self.refuses(InvalidSizes, taken_apart, {(False,): 1, (True,): 2})
         self.refuses(InvalidSizes, put_together, {(True,): 2})
         for value in shared:

@@ -1,6 +1,7 @@
 """[0.11], [0.12], [10.1] to [10.5] and what stands there: kinds by fixed fillings."""
 
 import fractions
+import inspect
 import itertools
 import random
 import unittest
@@ -9,6 +10,7 @@ from arrowsizes.chart.plans import Plan
 from arrowsizes.errors import InvalidFilling, InvalidPlan, InvalidPrime, InvalidSizes, InvalidTable, TooMany
 from arrowsizes.fill.fillings import Filling, hom_number
 from arrowsizes.fixed import kinds as module
+from arrowsizes.fixed import orbits as orbits_module
 from arrowsizes.fixed.kinds import (
     all_kinds, are_turns_for, fixed_number, keepers_number, kinds_mass, kinds_number, orbit_number, unsplittable_number)
 from arrowsizes.grid.tables import Table, idle_table, turn_number, turns, zero_table
@@ -23,7 +25,8 @@ LINE = Plan.line(2)
 # Lots of fillings that are gone through as a whole.
 LOTS = ((TWINS, (1, 1), 3), (TWINS, (2, 1), 2), (TWINS, (1, 2), 3), (TWINS, (2, 2), 2), (BOTH_WAYS, (1, 2), 2), (BOTH_WAYS, (1, 1), 7), (RING, (1, 1, 2), 2),
         (BENT, (1, 1, 1), 5), (BENT, (2, 0, 1), 3), (STAR, (2, 1, 1, 1), 2), (LINE, (2, 2), 2), (LINE, (0, 3), 2), (POINT, (2,), 3), (BARE, (1, 2), 2),
-        (THRICE, (1, 2), 2), (FULL, (1, 1, 0, 1, 0, 1), 3), (POINT, (0,), 5), (Plan.twins(9), (1, 1), 2), (Plan.twins(4), (1, 1), 5))
+        (THRICE, (1, 2), 2), (FULL, (1, 1, 0, 1, 0, 1), 3), (POINT, (0,), 5), (Plan.twins(9), (1, 1), 2), (Plan.twins(4), (1, 1), 5), (Plan.line(3), (1, 2, 1), 3),
+        (BOTH_WAYS, (1, 2), 3), (Plan.line(3), (1, 2, 1), 5))
 
 
 def product(numbers):
@@ -99,6 +102,11 @@ class FixedFillings(Case):
         self.all_refused(InvalidPlan, lambda value: are_turns_for(value, (1, 2), ()), NO_PLANS)
         self.all_refused(InvalidSizes, lambda value: are_turns_for(LINE, value, ()), NO_TUPLES + ((), (1,), (1, 7), (True, 1), [1, 1], (1, -1), (1, SIXTY_ONE)))
         self.refuses(InvalidPlan, are_turns_for, None, None, None)
+
+
+    def test_nothing_knows_of_polynomials(self):
+        for told in (module, orbits_module):
+            self.assertFalse([name for name in inspect.getsource(told).split() if name.startswith(("arrowsizes.poly", "arrowsizes.counted"))])
 
 
 class Kinds(Case):
@@ -189,6 +197,7 @@ class Kinds(Case):
         """Turns for sizes: 20000 are not passed by these numbers, 20160 and 28224 are."""
         for call in (kinds_number, unsplittable_number):
             call(LINE, (1, 2), 7)
+            call(Plan(5, ((0, 2), (3, 1))), (2, 2, 1, 1, 1), 3)
             call(Plan(5, ()), (1, 1, 1, 1, 1), 7)
             call(Plan.twins(1), (3, 0), 3)
             call(Plan(6, ((0, 1),)), (1, 1, 1, 1, 1, 0), 7)

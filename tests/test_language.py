@@ -178,6 +178,7 @@ class Language(unittest.TestCase):
     def test_classes(self):
         for node in self.each(ast.ClassDef):
             self.assertEqual(node.decorator_list, [])
+            self.assertRegex(node.name, r"^[A-Za-z]")
             for part in node.body:
                 self.assertIsInstance(part, (ast.FunctionDef, ast.Expr))
             methods = [part.name for part in node.body if isinstance(part, ast.FunctionDef)]

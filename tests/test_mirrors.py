@@ -347,8 +347,9 @@ class FinitePlans(Case):
     def test_root_sums_bound(self):
         self.assertEqual(root_sums(Plan(4, ()), (6, 6, 6, 6)), 1)
         self.assertEqual(root_sums(Plan.line(6), (6, 6, 6, 0, 0, 6)), root_sums(CHAIN, (6, 6, 6)))
-        self.assertEqual(root_sums(Plan(5, ()), (4, 4, 4, 4, 3)), 1)
+        self.assertEqual(root_sums(Plan(5, ()), (4, 4, 4, 5, 3)), 1)
         self.refuses(TooMany, root_sums, Plan(5, ()), (4, 4, 4, 4, 4), limit=3000)
+        self.refuses(TooMany, root_sums, Plan(5, ()), (6, 5, 5, 5, 1), limit=3000)
         self.refuses(TooMany, root_sums, E6, (6,) * 6, limit=3000)
         self.refuses(InvalidOperation, root_sums, FULL, (6,) * 6)
 

@@ -308,7 +308,7 @@ class Numbers(Case):
         self.assertEqual(pairs_poly(BARE, (6, 4)), Poly((1,)))
         great = pairs_poly(Plan.twins(9), (5, 5))
         self.assertEqual((great.degree, great.coefficients[-1]), (2 * 225 - 50 + 1, 1))
-        for plan, sizes in ((BARE, (6, 5)), (FULL, (6,) * 6), (RING, (3, 3, 4))):
+        for plan, sizes in ((BARE, (6, 5)), (CHAIN, (6, 3, 1)), (FULL, (6,) * 6), (RING, (3, 3, 4))):
             self.refuses(TooMany, pairs_poly, plan, sizes, limit=400)
 
     def test_errors(self):

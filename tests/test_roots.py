@@ -183,6 +183,7 @@ class Papers(Case):
             call(Plan.line(4), (4, 4, 3, 3))
             call(line, (4, 4, 3, 3, 0, 0))
             self.refuses(TooMany, call, Plan.line(4), (6, 6, 6, 1), limit=400)
+            self.refuses(TooMany, call, Plan.star(4), (4, 2, 2, 2, 2), limit=400)
             self.refuses(TooMany, call, Plan(5, ()), (3, 3, 4, 4, 1), limit=400)
             self.refuses(TooMany, call, Plan(5, ()), (0, 6, 6, 6, 1), limit=400)
             self.refuses(TooMany, call, line, (6,) * 6, limit=400)

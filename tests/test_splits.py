@@ -26,7 +26,8 @@ from tests.test_plans import BENT, FULL, POINT, RING, STAR, THRICE, TWINS
 # Small lots of fillings that are gone through as a whole.
 LOTS = ((TWINS, 2, (2, 2)), (TWINS, 2, (1, 2)), (TWINS, 3, (1, 1)), (BOTH_WAYS, 2, (2, 2)), (RING, 2, (1, 1, 2)), (BENT, 2, (1, 2, 1)), (STAR, 2, (2, 1, 1, 1)),
         (LINE, 3, (2, 1)), (THRICE, 2, (1, 2)), (BARE, 2, (1, 1)), (POINT, 3, (2,)), (POINT, 5, (1,)))
-OF_ONE = (is_unsplittable, field_degree, is_firm, idempotent_of, lambda value: is_idempotent(value, ()), parts_of, lambda value: is_parts(value, ()), part_sizes)
+OF_ONE = (is_unsplittable, field_degree, is_firm, idempotent_of, lambda value: is_idempotent(value, ()), parts_of, lambda value: is_parts(value, ()), part_sizes,
+          lambda value: is_idempotent(value, None), lambda value: is_parts(value, None), lambda value: is_parts(value, (EYE,)))
 OF_TWO = (times_in, are_alike, any_likeness, lambda one, other: is_likeness(one, other, ()))
 
 
@@ -116,7 +117,7 @@ class Unsplittable(Case):
     def test_by_all_endomorphisms(self):
         degrees = []
         for plan, prime, sizes in LOTS:
-            for filling in all_fillings(plan, prime, sizes)[:300]:
+            for filling in all_fillings(plan, prime, sizes)[:160]:
                 degree = degree_by_all(filling)
                 degrees.append(degree)
                 self.assertIs(is_unsplittable(filling), degree > 0)
@@ -182,7 +183,7 @@ class Idempotents(Case):
                 self.assertTrue(found is None or found in proper)
 
     def test_found_ones_are_judged(self):
-        for filling in some_fillings(2, 150, most=6, total=12):
+        for filling in some_fillings(2, 100, most=6, total=12):
             found = idempotent_of(filling)
             self.assertIs(found is None, len(part_sizes(filling)) < 2)
             if found is not None:
@@ -249,7 +250,7 @@ class Parts(Case):
             self.assertIs(is_parts(filling, other), True)
 
     def test_known_blocks(self):
-        for prime, lot, whole in block_lots(5, 25):
+        for prime, lot, whole in block_lots(5, 16):
             told = [((len(numbers) * many,) * 2, len(numbers)) for numbers, many in lot]
             self.assertEqual(part_sizes(whole), tuple(sorted(told)))
             self.assertIs(is_parts(whole, tuple([round_filling(prime, *block) for block in lot])), True)
@@ -360,7 +361,7 @@ class Likenesses(Case):
         self.assertIsNone(any_likeness(Filling.zero(LINE, 2, (0, 0)), EYE))
 
     def test_unlike_sequences_of_parts(self):
-        for prime, lot, whole in block_lots(11, 40):
+        for prime, lot, whole in block_lots(11, 25):
             blocks = [round_filling(prime, *told) for told in lot]
             self.assertEqual(whole, whole.changed(idle(whole)))
             for other in itertools.islice(itertools.permutations(blocks), 4):
@@ -386,7 +387,7 @@ class Endomorphisms(Case):
 
     def test_any_base_tells_the_same(self):
         source = random.Random(12)
-        for prime, lot, whole in block_lots(13, 150):
+        for prime, lot, whole in block_lots(13, 90):
             split, degree = split_or_degree(prime, self.mixed(source, whole))
             if len(lot) == 1:
                 self.assertEqual((split, degree), (None, len(lot[0][0])))
@@ -409,6 +410,31 @@ class Endomorphisms(Case):
             split, degree = split_or_degree(3, [(((1, 0), (0, 1)),)] + [(table.rows,) for table in lot])
             self.assertEqual(degree, 0)
             self.assertFalse(is_nilpotent(3, split) or are_turns(3, split))
+
+    def test_all_bases(self):
+        """Each base of all tables of two by two modulo 2 tells that they split, also if no member does."""
+        tables = [tuple([rows[:2], rows[2:]]) for rows in itertools.product(range(2), repeat=4) if any(rows)]
+        lots = [lot for lot in itertools.combinations(tables, 4) if rank_of(2, [rows[0] + rows[1] for rows in lot]) == 4]
+        alone = 0
+        for lot in lots:
+            split, degree = split_or_degree(2, [(rows,) for rows in lot])
+            self.same(degree, 0)
+            self.assertFalse(is_nilpotent(2, split) or are_turns(2, split))
+            alone += all([simple_part(2, (rows,))[0] is None for rows in lot])
+        self.assertGreater(alone, 20)
+
+    def test_bases_of_local_ones(self):
+        """All bases of the endomorphisms of an unsplittable filling tell its field degree."""
+        filling = round_filling(2, (1, 1), 2)
+        lot = hom_maps(filling, filling)
+        members = [combined_maps(2, factors, lot) for factors in itertools.product(range(2), repeat=len(lot)) if any(factors)]
+        flats = {maps: sum([row for rows in maps for row in rows], ()) for maps in members}
+        met = 0
+        for bases in itertools.islice(itertools.combinations(members, len(lot)), 400):
+            if rank_of(2, [flats[maps] for maps in bases]) == len(lot):
+                met += 1
+                self.assertEqual(split_or_degree(2, list(bases)), (None, 2))
+        self.assertGreater(met, 100)
 
     def test_simple_parts(self):
         for prime, lot, whole in block_lots(14, 60):

@@ -16,8 +16,9 @@ def fillings_number(plan, prime, sizes):
 
 
 def _all_rows(prime, height, width):
-    """The ascending list of the rows of all tables with these sides."""
-    return all_choices([all_columns(prime, width)] * height)
+    """The ascending list of the rows of all tables with these sides; tables without rows need no columns."""
+    columns = all_columns(prime, width) if height > 0 else []
+    return all_choices([columns] * height)
 
 
 def _all_fillings(plan, prime, sizes):

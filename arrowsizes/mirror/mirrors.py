@@ -124,14 +124,15 @@ def sink_word(plan, sizes):
 
 
 def _is_way(plan, sizes, word, end):
-    """Whether a word leads from a root to the unit row of a point."""
+    """Whether a word leads from a root to the unit row of a point.
+
+    Of all roots unit rows alone get a number below 0 when they are reflected, and they stand at the end.
+    """
     turned, now = plan, sizes
     for point in word:
         if point not in turned.sinks() or sum(now) == 1:
             return False
         turned, now = turned.turned_at(point), plan.reflected(now, point)
-        if now[point] < 0:
-            return False
     return now == unit_row(plan.size, end)
 
 

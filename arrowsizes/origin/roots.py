@@ -94,7 +94,7 @@ def _is_end(plan, sizes, kind, end):
     if kind == _BELOW:
         if not is_count(end, 0, plan.size - 1) or sum(sizes) == 1:
             return False
-        return _falls(table, sizes, end) and _fallen(table, sizes, end)[end] < 0
+        return _fallen(table, sizes, end)[end] < 0
     if not is_sizes(plan, end) or sizes != end or _first_fall(table, sizes) is not None:
         return False
     return kind == _low_kind(plan, sizes)
@@ -106,7 +106,7 @@ def is_root_paper(plan, sizes, value):
     if not isinstance(value, tuple) or len(value) != 3:
         return False
     kind, word, end = value
-    if not isinstance(kind, str) or not are_counts(word, 0, plan.size - 1):
+    if not are_counts(word, 0, plan.size - 1):
         return False
     now = _behind(plan.match_table, sizes, word)
     return now is not None and _is_end(plan, now, kind, end)
@@ -134,8 +134,8 @@ def _match_sum(row, shares, table):
     for part, share in shares.items():
         rest = row_less(row, part)
         if rest in shares:
-            match = _product(part, [_product(line, rest) for line in table])
-            total = total + match * share * shares[rest]
+            number = _product(part, [_product(line, rest) for line in table])
+            total = total + number * share * shares[rest]
     return total
 
 

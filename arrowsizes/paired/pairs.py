@@ -139,7 +139,7 @@ def lift_paper(filling, numbers):
 def is_lift_paper(filling, numbers, value):
     """Whether the value is such a paper."""
     _check_lifted(filling, numbers)
-    if not isinstance(value, tuple) or len(value) != 2 or not isinstance(value[0], str):
+    if not isinstance(value, tuple) or len(value) != 2:
         return False
     kind, shown = value
     if kind == _LIFT:

@@ -130,4 +130,6 @@ def split_or_degree(prime, lot):
     live = _unlike_order(prime, lot, simple)
     if live is None:
         return None, degree
-    return _any_split(prime, lot) if are_turns(prime, live) else live, 0
+    if are_turns(prime, live):
+        return _any_split(prime, lot), 0
+    return live, 0

@@ -27,8 +27,8 @@ def product_maps(prime, one, other):
 
 def power_maps(prime, maps, many):
     """The power, with an exponent from 1 on."""
-    found = maps
-    for digit in f"{many:b}"[1:]:
+    found, digits = maps, f"{many:b}"
+    for digit in digits[1:]:
         found = product_maps(prime, found, found)
         if digit == "1":
             found = product_maps(prime, found, maps)

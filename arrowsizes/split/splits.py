@@ -181,17 +181,15 @@ def _are_paired(ones, others):
     return len(ones) == len(others) == len(_paired(ones, others))
 
 
-def _is_part_for(filling, value):
-    """Whether the value is an unsplittable filling that goes together with another one, and is not greater."""
-    if not isinstance(value, Filling) or value.plan != filling.plan or value.prime != filling.prime:
-        return False
-    return value.total <= filling.total and _degree(value) > 0
+def _goes_with(filling, value):
+    """Whether the value is a filling that goes together with another one."""
+    return isinstance(value, Filling) and value.plan == filling.plan and value.prime == filling.prime
 
 
 def is_parts(filling, value):
-    """Whether the value is a tuple of parts."""
+    """Whether the value is a tuple of parts: what is alike to an unsplittable filling is unsplittable."""
     _check_one(filling)
-    if not isinstance(value, tuple) or not all([_is_part_for(filling, part) for part in value]):
+    if not isinstance(value, tuple) or not all([_goes_with(filling, part) for part in value]):
         return False
     return _are_paired(value, parts_of(filling))
 
