@@ -221,6 +221,7 @@ class Kinds(Case):
 
     def test_keepers_bound(self):
         self.same(keepers_number(Filling.zero(Plan(2, ()), 2, (3, 2))), 168 * 6)
+        self.same(keepers_number(Filling.zero(POINT, 3, (3,))), 11232)
         self.same(keepers_number(Filling.zero(Plan(6, ()), 2, (2, 2, 2, 1, 1, 0))), 216)
         self.same(keepers_number(Filling.zero(Plan(5, ()), 7, (1, 1, 1, 1, 1))), 6 ** 5)
         for call in (keepers_number, orbit_number):
