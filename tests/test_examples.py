@@ -5,17 +5,24 @@ import unittest
 
 from arrowsizes import errors
 from arrowsizes.base import numbers
+from arrowsizes.canon import canons
 from arrowsizes.chart import plans
 from arrowsizes.counted import counts
 from arrowsizes.fill import fillings
 from arrowsizes.fixed import kinds
+from arrowsizes.general import generals
 from arrowsizes.grid import tables
+from arrowsizes.joined import joins
+from arrowsizes.line import bars
 from arrowsizes.mirror import mirrors
 from arrowsizes.origin import roots
 from arrowsizes.paired import pairs
 from arrowsizes.poly import polys, series
 from arrowsizes.slices import partitions
+from arrowsizes.special import specials
 from arrowsizes.split import splits
+from arrowsizes.steady import weights
+from arrowsizes.use import desk
 from tests.helpers import Case
 
 VALUES = """
@@ -189,10 +196,101 @@ raises InvalidOperation
 """
 
 
+GENERALS = """
+>>> TWO, THREE, FOUR = Plan.twins(2), Plan.twins(3), Plan(5, ((1, 0), (2, 0), (3, 0), (4, 0)))
+>>> [subs_of(TWO, (1, 1)), subs_of(TWO, (2, 2)), subs_of(THREE, (2, 2)), len(subs_of(FOUR, (2, 1, 1, 1, 1)))]
+[((0, 0), (0, 1), (1, 1)), ((0, 0), (0, 1), (0, 2), (1, 1), (1, 2), (2, 2)), ((0, 0), (0, 1), (0, 2), (1, 2), (2, 2)), 22]
+>>> [sits_in(THREE, (1, 1), (2, 2)), is_bar(THREE, (1, 1), (2, 2), (1, 1)), bar_of(TWO, (1, 1), (2, 2)), sits_in(TWO, (2, 0), (1, 1))]
+[False, True, None, False]
+>>> [ext_of_sizes(TWO, (1, 0), (0, 1)), hom_of_sizes(TWO, (1, 2), (2, 1)), ext_of_sizes(TWO, (2, 1), (1, 2)), ext_of_sizes(THREE, (2, 2), (1, 1)), best_sub(THREE, (1, 1), (1, 1))]
+[2, 2, 4, 2, (1, 1)]
+>>> [schur_roots(TWO, (3, 3)), is_schur(THREE, (2, 2)), is_schur(FOUR, (2, 1, 1, 1, 1)), is_schur(TWO, (2, 2)), is_schur(TWO, (0, 0))]
+[((0, 1), (1, 0), (1, 1), (1, 2), (2, 1), (2, 3), (3, 2)), True, True, False, False]
+>>> subs_of(Plan(2, ((0, 1), (1, 0))), (1, 1))
+raises Refused(('ring',))
+"""
+
+CANONS = """
+>>> LINE = Plan.line(3)
+>>> [canonical_parts(TWINS, (2, 2)), canonical_parts(TWINS, (1, 3)), canonical_parts(THRICE, (1, 4)), canonical_parts(THRICE, (2, 2))]
+[{(1, 1): 2}, {(0, 1): 1, (1, 2): 1}, {(0, 1): 1, (1, 3): 1}, {(2, 2): 1}]
+>>> [canonical_parts(LINE, (2, 1, 2)), canonical_parts(LINE, (1, 2, 1)), canonical_parts(Plan.star(4), (2, 1, 1, 1, 1)), canonical_parts(TWINS, (0, 0))]
+[{(0, 0, 1): 1, (1, 0, 0): 1, (1, 1, 1): 1}, {(0, 1, 0): 1, (1, 1, 1): 1}, {(2, 1, 1, 1, 1): 1}, {}]
+>>> [free_number(TWINS, (2, 2)), endomorphism_number(TWINS, (2, 2)), free_number(THRICE, (2, 2)), endomorphism_number(THRICE, (2, 2)), free_number(LINE, (2, 1, 2)), splitting_of(TWINS, (2, 2))]
+[2, 2, 5, 1, 0, (1, 1)]
+>>> [are_canonical(TWINS, (2, 2), {(2, 2): 1}), are_canonical(TWINS, (2, 2), {(1, 1): 2}), is_splitting(THRICE, (2, 2), (1, 1)), is_splitting(LINE, (1, 2, 1), (0, 1, 0))]
+[False, True, False, True]
+>>> canonical_parts(Plan(2, ((0, 1), (1, 0))), (1, 1))
+raises Refused(('ring',))
+"""
+
+WEIGHTS = """
+>>> [mean_of(TWINS, (1, 0), (2, 4)), has_steady(THRICE, (1, 0), (2, 3)), has_steady(THRICE, (0, 1), (2, 3)), barring_row(TWINS, (0, 1), (1, 1)), has_hard(TWINS, (1, 0), (2, 2))]
+[(1, 3), True, False, (0, 1), False]
+>>> [str(steady_share(TWINS, (1, 0), (1, 1))), str(steady_share(STAR, (-1, 0, 0, 0), (2, 1, 1, 1))), str(steady_share(THRICE, (1, 0), (2, 3)).top)]
+['(q + 1)/(q - 1)', '(1)/(q - 1)', 'q^6 + q^5 + 3*q^4 + 3*q^3 + 3*q^2 + q + 1']
+>>> [types_of(TWINS, (0, 1), (1, 1)), str(type_share(TWINS, (0, 1), ((0, 1), (1, 0)))), str(whole_share(TWINS, (1, 1)))]
+[(((0, 1), (1, 0)),), '(q^2)/(q^2 - 2*q + 1)', '(q^2)/(q^2 - 2*q + 1)']
+"""
+
+BARS = """
+>>> BOTH, SOME = (((0, 1), 1),), (((0, 0), 1), ((0, 1), 1))
+>>> [sizes_of_bars(2, SOME), ranks_of_bars(2, SOME), greatest_bars((2, 3, 1)), bar_row_of(filling_of_bars(2, 3, SOME)) == SOME]
+[(2, 1), {(0, 0): 2, (0, 1): 1, (1, 1): 1}, (((0, 1), 1), ((0, 2), 1), ((1, 1), 1)), True]
+>>> [bar_homs(2, SOME, SOME), bar_homs(2, BOTH, SOME), bar_exts(2, (((0, 0), 1),), (((1, 1), 1),)), joined_bars(3, (0, 1), (1, 2)), joined_bars(3, (1, 2), (0, 1))]
+[3, 2, 1, (((0, 2), 1), ((1, 1), 1)), None]
+>>> [are_below(2, (((0, 0), 1), ((1, 1), 1)), BOTH), bar_turns(2, SOME).coefficients, bar_fillings(2, SOME).coefficients, is_bar_row(2, (((0, 1), 0),))]
+[True, (0, 1, -2, 1), (-1, 0, 1), False]
+>>> joined_bars(2, (0, 2), (0, 0))
+raises InvalidPoint
+"""
+
+SPECIALS = """
+>>> [places(2, 1), places(2, 2), len(places(5, 3)), is_label(2, ("place", (1, 0, 1), 1))]
+[((), (0, 1), (1, 1)), ((1, 1, 1),), 40, False]
+>>> ONE = two_of_kind(3, {("more", 1): 1, ("place", (1, 1), 1): 1})
+>>> [ONE.sizes, [table.rows for table in ONE.tables], two_kind(ONE) == {("more", 1): 1, ("place", (1, 1), 1): 1}]
+[(3, 2), [((1, 0, 0), (0, 0, 1)), ((0, 1, 0), (0, 0, 2))], True]
+>>> [two_poly((3, 3)).coefficients, lines_poly(4).coefficients, lines_poly(5).coefficients, lines_kinds(2, 4), lines_kinds(5, 4)]
+[(1, 1), (4, 1), (11, 5, 1), 51, 54]
+>>> LINES = Filling(Plan.star(4), 5, (2, 1, 1, 1, 1), tuple([Table(5, 2, 1, ((x,), (y,))) for x, y in ((1, 1), (2, 0), (0, 1), (1, 3))]))
+>>> [line_pattern(LINES), lines_of_pattern(5, 4, ((0, 1, 2, 3), (4,))).tables[3].rows, is_line_pattern(3, 4, ((0, None, 1, 0), ()))]
+[((0, 1, 2, 3), (4,)), ((1,), (4,)), True]
+>>> two_poly((0, 0))
+raises InvalidSizes
+"""
+
+JOINS = """
+>>> LINE, ONE = Plan.line(2), Table(3, 1, 1, ((1,),))
+>>> EYE, HEAD, TAIL = Filling(LINE, 3, (1, 1), (ONE,)), Filling.single(LINE, 3, 0), Filling.single(LINE, 3, 1)
+>>> [join_number(EYE, TAIL, HEAD), join_number(EYE, HEAD, TAIL), middle_number(HEAD, TAIL, EYE), likeness_number(EYE), likeness_number(HEAD.summed(HEAD)), len(class_base(HEAD, TAIL))]
+[1, 0, 2, 2, 48, 1]
+>>> [extended(HEAD, TAIL, (ONE,)) == EYE, sorted([number for filling, number in middles(HEAD, TAIL)]), len(list(subs_with(HEAD.summed(HEAD), (1, 0))))]
+[True, [1, 2], 4]
+>>> [line_sort(EYE), line_join((1, 1, 1), (0, 1, 0), (1, 0, 0)) == Poly((1,)), line_join((0, 2, 0), (0, 1, 0), (0, 1, 0)) == Poly((1, 1))]
+[(1, 1, 1), True, True]
+>>> extended(HEAD, TAIL, ())
+raises InvalidOperation
+"""
+
+DESK = """
+>>> line, kept = Plan.line(2), ("hom", "a", "c", 1)
+>>> desk, long = Desk(line, 2), filling_of_bars(2, 2, (((0, 1), 1),))
+>>> [desk.put("a", long), desk.put("b", filling_of_bars(2, 2, (((1, 1), 1),))), desk.pair("c", "a", "b"), str(desk)]
+[((), ('a: 1 1 in 1 parts',)), ((), ('b: 0 1 in 1 parts',)), ((), ('c: 1 2 in 2 parts',)), 'desk of 3 fillings, 0 pledges']
+>>> [desk.demand(kept), desk.demand(("firm", "b")), desk.lines]
+[((), ()), ((), ()), ('a: 1 1 in 1 parts', 'b: 0 1 in 1 parts', 'c: 1 2 in 2 parts')]
+>>> desk.drop("b")
+raises Refused(("firm", "b"))
+>>> [desk.waive(("firm", "b")), desk.drop("b"), desk.undo(many=2), desk.redo(), desk.changes, len(desk)]
+[((), ()), (('b: 0 1 in 1 parts',), ()), ((), ('b: 0 1 in 1 parts',)), ((), ()), 6, 1]
+"""
+
+
 def all_names():
     """The names of all modules, and the values that the examples use."""
     names = {}
-    for module in (errors, numbers, polys, series, partitions, tables, plans, roots, fillings, splits, mirrors, kinds, counts, pairs):
+    for module in (errors, numbers, polys, series, partitions, tables, plans, roots, fillings, splits, mirrors, kinds, counts, pairs, generals, canons, weights, bars, specials, joins, desk):
         names.update(vars(module))
     exec(VALUES, names)
     return names
@@ -262,6 +360,27 @@ class Examples(Case):
 
     def test_pairs(self):
         self.check(PAIRS)
+
+    def test_generals(self):
+        self.check(GENERALS)
+
+    def test_canons(self):
+        self.check(CANONS)
+
+    def test_weights(self):
+        self.check(WEIGHTS)
+
+    def test_bars(self):
+        self.check(BARS)
+
+    def test_specials(self):
+        self.check(SPECIALS)
+
+    def test_joins(self):
+        self.check(JOINS)
+
+    def test_desk(self):
+        self.check(DESK)
 
 
 if __name__ == "__main__":

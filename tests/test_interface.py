@@ -20,6 +20,13 @@ CONSTANTS = {
     "fixed.kinds": {"MAX_TURNED": 20000, "MAX_FILLED": 4096},
     "counted.counts": {"MOST_ROWS": 400, "MOST_FIELD": 100},
     "paired.pairs": {"MAX_PAIRED": 4096, "MAX_LIFTED": 12},
+    "general.generals": {"MAX_GENERAL": 14, "MAX_SUBS": 300},
+    "canon.canons": {},
+    "steady.weights": {"MAX_STEADY": 14, "MAX_CHAINS": 100, "MAX_TRIED": 4096},
+    "line.bars": {"MAX_BAR_ROWS": 3000},
+    "special.specials": {"MAX_PLACE": 4, "MAX_ARMS": 5},
+    "joined.joins": {"MAX_JOINED": 20000},
+    "use.desk": {"MAX_FILLINGS": 6, "MAX_PLEDGES": 10, "MAX_SPLIT": 12},
 }
 
 FUNCTIONS = {
@@ -65,6 +72,32 @@ FUNCTIONS = {
         "pair_sums(filling, other)", "is_pair_told(filling, other, numbers)", "lift_paper(filling, numbers)",
         "is_lift_paper(filling, numbers, value)", "lifts_number(filling, numbers)", "are_general(plan, prime, sizes, numbers)",
         "pairs_number(plan, prime, sizes, numbers)", "pairs_poly(plan, sizes)"),
+    "general.generals": (
+        "subs_of(plan, sizes)", "sits_in(plan, one, whole)", "bar_of(plan, one, whole)", "is_bar(plan, one, whole, value)",
+        "ext_of_sizes(plan, one, other)", "hom_of_sizes(plan, one, other)", "best_sub(plan, one, other)",
+        "is_best_sub(plan, one, other, value)", "is_schur(plan, sizes)", "schur_roots(plan, sizes)"),
+    "canon.canons": (
+        "canonical_parts(plan, sizes)", "are_canonical(plan, sizes, value)", "splitting_of(plan, sizes)",
+        "is_splitting(plan, sizes, value)", "free_number(plan, sizes)", "endomorphism_number(plan, sizes)"),
+    "steady.weights": (
+        "mean_of(plan, weight, sizes)", "has_steady(plan, weight, sizes)", "has_hard(plan, weight, sizes)",
+        "barring_row(plan, weight, sizes)", "is_barring_row(plan, weight, sizes, value)", "whole_share(plan, sizes)",
+        "steady_share(plan, weight, sizes)", "type_share(plan, weight, parts)", "types_of(plan, weight, sizes)",
+        "type_of_filling(filling, weight)", "is_steady_filling(filling, weight)", "is_hard_filling(filling, weight)"),
+    "line.bars": (
+        "bar_row_of(filling)", "rank_between(filling, one, other)", "is_bar_row(size, value)", "sizes_of_bars(size, bars)",
+        "ranks_of_bars(size, bars)", "filling_of_bars(size, prime, bars)", "bar_homs(size, one, other)", "bar_exts(size, one, other)",
+        "joined_bars(size, one, other)", "are_below(size, one, other)", "bar_rows(sizes)", "greatest_bars(sizes)",
+        "bar_turns(size, bars)", "bar_fillings(size, bars)"),
+    "special.specials": (
+        "places(prime, degree)", "is_label(prime, value)", "two_filling(prime, label)", "two_kind(filling)", "two_of_kind(prime, kind)",
+        "two_poly(sizes)", "line_pattern(filling)", "is_line_pattern(prime, arms, value)", "lines_of_pattern(prime, arms, pattern)",
+        "lines_poly(arms)", "lines_kinds(prime, arms)"),
+    "joined.joins": (
+        "subs_with(filling, sizes)", "join_number(whole, sub, rest)", "extended(rest, sub, between)", "class_base(rest, sub)",
+        "middle_number(rest, sub, whole)", "middles(rest, sub)", "likeness_number(filling)", "line_sort(filling)",
+        "line_join(whole, sub, rest)"),
+    "use.desk": ("is_pledge(value)",),
 }
 
 CLASSES = {
@@ -94,6 +127,12 @@ CLASSES = {
         "Filling": ("__init__(self, plan, prime, sizes, tables)", "zero(cls, plan, prime, sizes)", "single(cls, plan, prime, point)",
                     "summed(self, other)", "changed(self, turns)", "turned_over(self)", "__eq__", "__str__", "plan", "prime", "sizes",
                     "tables", "total"),
+    },
+    "use.desk": {
+        "Desk": ("__init__(self, plan, prime)", "put(self, name, filling)", "pair(self, name, one, other)", "turn(self, name, turns)",
+                 "drop(self, name)", "rename(self, names)", "demand(self, pledge)", "waive(self, pledge)", "undo(self, *, many=1)",
+                 "redo(self, *, many=1)", "trial(self)", "during(self, call)", "twin(self)", "filling_named(self, name)", "names",
+                 "lines", "pledges", "changes", "__contains__", "__len__", "__iter__", "__eq__", "__str__"),
     },
 }
 
@@ -132,7 +171,7 @@ class Interface(Case):
                     self.assertEqual("cls" in text, isinstance(held, classmethod))
 
     def test_generators(self):
-        for module, text in (("grid.tables", "turns"), ("grid.tables", "spaces"), ("fixed.kinds", "all_kinds")):
+        for module, text in (("grid.tables", "turns"), ("grid.tables", "spaces"), ("fixed.kinds", "all_kinds"), ("line.bars", "bar_rows"), ("joined.joins", "subs_with")):
             self.assertTrue(inspect.isgeneratorfunction(getattr(module_of(module), text)))
 
 

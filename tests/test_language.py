@@ -15,18 +15,18 @@ FILES = sorted(PACKAGE.rglob("*.py"))
 
 STATEMENTS = (
     ast.Module, ast.FunctionDef, ast.ClassDef, ast.ImportFrom, ast.Assign, ast.AugAssign, ast.Return, ast.Raise, ast.If,
-    ast.For, ast.While, ast.Expr, ast.Pass, ast.Break, ast.Continue, ast.Assert)
+    ast.For, ast.While, ast.Expr, ast.Pass, ast.Break, ast.Continue, ast.Assert, ast.With)
 EXPRESSIONS = (
     ast.Constant, ast.Name, ast.Attribute, ast.Subscript, ast.Slice, ast.Call, ast.Tuple, ast.List, ast.Dict, ast.ListComp,
     ast.DictComp, ast.BinOp, ast.UnaryOp, ast.BoolOp, ast.Compare, ast.IfExp, ast.JoinedStr, ast.FormattedValue, ast.Yield,
     ast.Starred)
 BUILTINS = (
-    "len range enumerate zip min max sum abs sorted reversed int str bool list tuple dict isinstance ord repr any all divmod "
+    "len range enumerate zip min max sum abs sorted reversed int str bool list tuple dict isinstance ord repr any all divmod iter "
     "ValueError KeyError IndexError ArithmeticError OverflowError RuntimeError True False None property classmethod").split()
 BUILTIN_METHODS = (
     "append clear copy count endswith extend find get index insert items join keys pop remove replace reverse setdefault "
     "split startswith strip update values bit_length").split()
-SPECIAL = ("__init__", "__eq__", "__len__", "__str__")
+SPECIAL = ("__init__", "__eq__", "__len__", "__str__", "__enter__", "__exit__", "__iter__", "__contains__")
 LIBRARY = {"math": ("gcd", "lcm", "isqrt", "comb", "perm", "factorial")}
 BARRED_NAMES = (
     "register mro elements open input law version_info with_traceback add_note compile copyright dir eval exec exit gc globals "

@@ -163,6 +163,26 @@ def row_less(row, other):
     return tuple([number - less for number, less in zip(row, other)])
 
 
+def row_plus(row, other):
+    """The sums of the integers at equal indices."""
+    return tuple([number + more for number, more in zip(row, other)])
+
+
+def dot_row(row, other):
+    """The sum of the products of the integers at equal indices."""
+    return sum([left * right for left, right in zip(row, other)])
+
+
+def is_below(row, other):
+    """Whether no integer of a row is greater than that of the other one at the same index."""
+    return all([number <= most for number, most in zip(row, other)])
+
+
+def is_zero_row(row):
+    """Whether all integers are 0."""
+    return not any([number != 0 for number in row])
+
+
 def row_over(row, many):
     """The integers, divided by an integer that divides all of them."""
     return tuple([number // many for number in row])

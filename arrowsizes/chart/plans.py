@@ -1,8 +1,9 @@
 """Plans: points and arrows between them."""
 
-from arrowsizes.base.numbers import are_counts, are_integers, check_count, is_count, unit_row
+from arrowsizes.base.numbers import are_counts, are_integers, check_count, dot_row, is_count, is_zero_row
+from arrowsizes.base.numbers import unit_row
 from arrowsizes.chart.minors import is_nowhere_negative, is_positive
-from arrowsizes.errors import InvalidPlan, InvalidPoint, InvalidSizes
+from arrowsizes.errors import InvalidPlan, InvalidPoint, InvalidSizes, InvalidWeight
 
 MOST_POINTS = 6
 MOST_ARROWS = 9
@@ -75,8 +76,7 @@ class Plan:
         """The form of two rows of integers."""
         self._check_row(one)
         self._check_row(other)
-        squares = sum([left * right for left, right in zip(one, other)])
-        return squares - sum([one[start] * other[goal] for start, goal in self._arrows])
+        return dot_row(one, other) - sum([one[start] * other[goal] for start, goal in self._arrows])
 
     def match(self, one, other):
         """The match of two rows of integers."""
@@ -136,7 +136,7 @@ class Plan:
         return all([value[at] < value[at + 1] for at in range(len(value) - 1)])
 
     def _check_row(self, value):
-        if not are_integers(value) or len(value) != self._size:
+        if not is_integer_row(self, value):
             raise InvalidSizes("no tuple of an integer for each point")
 
     def __eq__(self, other):
@@ -185,6 +185,11 @@ def _pieces(size, arrows):
     return tuple([piece for piece in pieces if piece])
 
 
+def is_integer_row(plan, value):
+    """Whether the value is a tuple of an integer for each point of a plan."""
+    return are_integers(value) and len(value) == plan.size
+
+
 def check_plan(value):
     """Raise InvalidPlan unless the value is a plan."""
     if not isinstance(value, Plan):
@@ -206,6 +211,12 @@ def check_sizes(plan, value):
 def is_point(plan, value):
     """Whether the value is a point of the plan."""
     return is_count(value, 0, plan.size - 1)
+
+
+def check_weight(plan, value):
+    """Raise InvalidWeight unless the value is a tuple of an integer for each point of a plan."""
+    if not is_integer_row(plan, value):
+        raise InvalidWeight("no tuple of an integer for each point")
 
 
 def check_point(plan, value):
@@ -277,6 +288,6 @@ def bad_row(plan):
 
 def is_bad_row(plan, value):
     """Whether the value is such a row."""
-    if not is_sizes(plan, value) or not any([size > 0 for size in value]):
+    if not is_sizes(plan, value) or is_zero_row(value):
         return False
     return plan.norm(value) < (0 if sort_of(plan) == _WILD else 1)

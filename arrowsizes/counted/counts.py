@@ -2,7 +2,7 @@
 
 from arrowsizes.base.lots import SHARES, lots_of_parts, lots_of_shares, parts_of_lots
 from arrowsizes.base.numbers import all_choices, check_count, divisors, greatest_divisor, is_integer, is_row
-from arrowsizes.base.numbers import moebius, power_of, row_count, row_over, rows_to
+from arrowsizes.base.numbers import is_zero_row, moebius, power_of, row_count, row_over, rows_to
 from arrowsizes.chart.plans import Plan, check_plan, check_sizes
 from arrowsizes.counted.tops import firm_rows, partition_top, turns_row
 from arrowsizes.errors import InvalidSizes, TooMany
@@ -19,7 +19,7 @@ _MOST_DIGITS = 60
 def _check_some(plan, sizes):
     """Raise InvalidSizes also for sizes that are all 0."""
     check_sizes(plan, sizes)
-    if not any([size > 0 for size in sizes]):
+    if is_zero_row(sizes):
         raise InvalidSizes("the sizes are all 0")
 
 
@@ -124,7 +124,7 @@ def _bound_told(value, first):
     if not isinstance(value, dict):
         raise InvalidSizes("no dict")
     bound = _bound_of(list(value))
-    if bound is None or not any([size > 0 for size in bound]) or row_count(bound) > MOST_ROWS:
+    if bound is None or is_zero_row(bound) or row_count(bound) > MOST_ROWS:
         raise InvalidSizes("no rows up to a row other than 0, or too many of them")
     rows = rows_to(bound)[first:]
     if len(value) != len(rows) or not all([row in value and is_integer(value[row]) for row in rows]):

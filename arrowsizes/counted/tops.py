@@ -7,16 +7,9 @@ they have integers where powers of series are divided by integers from 1 to 6.
 from arrowsizes.base.lots import SHARES, place_of
 from arrowsizes.base.numbers import all_choices, greatest_divisor, row_less, row_over, rows_to
 from arrowsizes.poly.polys import gauss_row, turn_row
-from arrowsizes.poly.rows import exact_row, product_row, row_without, scaled_row, shifted_row, spread_row, sum_row
+from arrowsizes.poly.rows import exact_row, product_of, product_row, row_without, scaled_row, shifted_row
+from arrowsizes.poly.rows import spread_row, sum_row
 from arrowsizes.slices.partitions import partitions, product_number, tables_with
-
-
-def product_of(rows):
-    """The product of a list of rows of coefficients."""
-    found = (1,)
-    for row in rows:
-        found = product_row(found, row)
-    return found
 
 
 def turns_row(sizes):

@@ -1,11 +1,11 @@
 """Fillings of plans, homs between them, their subs and quotients."""
 
 from arrowsizes.base.checks import check_prime
-from arrowsizes.base.numbers import unit_row
+from arrowsizes.base.numbers import row_plus, unit_row
 from arrowsizes.chart.plans import MOST_SIZE, check_plan, check_point, check_sizes
 from arrowsizes.errors import InvalidFilling, InvalidOperation, TooMany
 from arrowsizes.fill.homs import flat_row, hom_and_ext, hom_maps
-from arrowsizes.grid.columns import base_columns, base_leads, cleared, idle_columns, lead_of, rank_of
+from arrowsizes.grid.columns import base_columns, base_leads, cleared, idle_columns, is_within, rank_of
 from arrowsizes.grid.tables import Table, are_columns, table_with, zero_table
 
 
@@ -16,11 +16,11 @@ def _is_table(prime, height, width, value):
     return value.height == height and value.width == width
 
 
-def _are_tables(plan, prime, sizes, value):
-    """Whether the value is a tuple of tables for the arrows."""
+def are_tables(plan, prime, starts, goals, value):
+    """Whether the value is a tuple of tables along the arrows, from some sizes at starts to others at goals."""
     if not isinstance(value, tuple) or len(value) != len(plan.arrows):
         return False
-    ends = [(sizes[goal], sizes[start]) for start, goal in plan.arrows]
+    ends = [(goals[goal], starts[start]) for start, goal in plan.arrows]
     return all([_is_table(prime, high, wide, table) for (high, wide), table in zip(ends, value)])
 
 
@@ -36,12 +36,18 @@ def check_filling(value):
         raise InvalidFilling("no filling")
 
 
+def check_together(values):
+    """Raise an error unless all of some values, at least one, are fillings that go together."""
+    for value in values:
+        check_filling(value)
+    first = values[0]
+    if any([value.plan != first.plan or value.prime != first.prime for value in values]):
+        raise InvalidOperation("the plans or the primes are unlike")
+
+
 def check_fillings(one, other):
     """Raise an error unless both values are fillings that go together."""
-    check_filling(one)
-    check_filling(other)
-    if one.plan != other.plan or one.prime != other.prime:
-        raise InvalidOperation("the plans or the primes are unlike")
+    check_together([one, other])
 
 
 class Filling:
@@ -49,7 +55,7 @@ class Filling:
 
     def __init__(self, plan, prime, sizes, tables):
         _check_base(plan, prime, sizes)
-        if not _are_tables(plan, prime, sizes, tables):
+        if not are_tables(plan, prime, sizes, sizes, tables):
             raise InvalidFilling("no tuple of such tables for the arrows")
         self._plan = plan
         self._prime = prime
@@ -99,7 +105,7 @@ class Filling:
     def summed(self, other):
         """The sum with another filling."""
         check_fillings(self, other)
-        sizes = tuple([left + right for left, right in zip(self._sizes, other.sizes)])
+        sizes = row_plus(self._sizes, other.sizes)
         if any([size > MOST_SIZE for size in sizes]):
             raise TooMany(MOST_SIZE)
         tables = [left.blocks(right) for left, right in zip(self._tables, other.tables)]
@@ -129,12 +135,17 @@ class Filling:
         return f"filling of ({told}) over {self._prime}"
 
 
-def filling_of_rows(plan, prime, sizes, tables):
-    """The filling whose tables have these rows."""
+def tables_of_rows(plan, prime, starts, goals, tables):
+    """The tables along the arrows, from some sizes at starts to others at goals, that have these rows."""
     made = []
     for (start, goal), rows in zip(plan.arrows, tables):
-        made.append(Table(prime, sizes[goal], sizes[start], rows))
-    return Filling(plan, prime, sizes, tuple(made))
+        made.append(Table(prime, goals[goal], starts[start], rows))
+    return tuple(made)
+
+
+def filling_of_rows(plan, prime, sizes, tables):
+    """The filling whose tables have these rows."""
+    return Filling(plan, prime, sizes, tables_of_rows(plan, prime, sizes, sizes, tables))
 
 
 def _is_hom_shape(one, other, value):
@@ -208,19 +219,13 @@ def _are_spaces(filling, value):
     return all([_are_free(filling.prime, size, columns) for size, columns in zip(filling.sizes, value)])
 
 
-def _is_led_into(filling, table, columns, leads):
-    """Whether a table leads all columns into the space whose base the leads tell."""
-    reached = [cleared(filling.prime, table.leading(column), leads) for column in columns]
-    return all([lead_of(column) is None for column in reached])
-
-
 def _is_sub(filling, value):
     if not _are_spaces(filling, value):
         return False
     leads = [base_leads(filling.prime, columns) for columns in value]
     ways = []
     for (start, goal), table in zip(filling.plan.arrows, filling.tables):
-        ways.append(_is_led_into(filling, table, value[start], leads[goal]))
+        ways.append(is_within(filling.prime, [table.leading(column) for column in value[start]], leads[goal]))
     return all(ways)
 
 
@@ -245,8 +250,19 @@ def _check_sub(filling, spaces):
 
 
 def sub_filling(filling, spaces):
-    """A sub as a filling, in the coordinates of its base: these are the entries at the leads."""
+    """A sub as a filling, in the coordinates of its base."""
     _check_sub(filling, spaces)
+    return filling_on(filling, spaces)
+
+
+def quotient_filling(filling, spaces):
+    """The quotient by a sub as a filling, in the coordinates at the indices without leads."""
+    _check_sub(filling, spaces)
+    return filling_off(filling, spaces)
+
+
+def filling_on(filling, spaces):
+    """A sub as a filling, unchecked: the coordinates of its base are the entries at the leads."""
     prime = filling.prime
     leads = [base_leads(prime, columns) for columns in spaces]
     tables = []
@@ -257,9 +273,8 @@ def sub_filling(filling, spaces):
     return Filling(filling.plan, prime, tuple([len(columns) for columns in spaces]), tuple(tables))
 
 
-def quotient_filling(filling, spaces):
-    """The quotient by a sub as a filling, in the coordinates at the indices without leads."""
-    _check_sub(filling, spaces)
+def filling_off(filling, spaces):
+    """The quotient by a sub as a filling, unchecked."""
     prime = filling.prime
     leads = [base_leads(prime, columns) for columns in spaces]
     free = [[at for at in range(size) if at not in told] for size, told in zip(filling.sizes, leads)]

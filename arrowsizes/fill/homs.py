@@ -27,8 +27,12 @@ def _equation(one, other, starts, many, at, place):
     return tuple(entries)
 
 
-def _equations(one, other):
-    """The rows of all equations for the entries of a hom, and how many entries it has."""
+def equations(one, other):
+    """The rows of all equations for the entries of a hom, and how many entries it has.
+
+    The sums of multiples of their columns are the rows of tables along the arrows of the form
+    f_j * x - y * f_i, entry by entry.
+    """
     starts, many = _starts_of(one, other)
     rows = []
     for at, (start, goal) in enumerate(one.plan.arrows):
@@ -39,7 +43,7 @@ def _equations(one, other):
 
 def hom_and_ext(one, other):
     """The pair of the hom number and the ext number."""
-    rows, many = _equations(one, other)
+    rows, many = equations(one, other)
     rank = rank_of(one.prime, rows)
     return many - rank, len(rows) - rank
 
@@ -55,7 +59,7 @@ def maps_of(entries, sides):
 
 def hom_maps(one, other):
     """The list of the homs of a base, each one as the tuple of the rows of its tables."""
-    rows, many = _equations(one, other)
+    rows, many = equations(one, other)
     sides = list(zip(other.sizes, one.sizes))
     return [maps_of(entries, sides) for entries in kernel_columns(one.prime, rows, many)]
 

@@ -7,7 +7,7 @@ from arrowsizes.base.numbers import all_choices, power_of
 from arrowsizes.grid.columns import all_columns
 
 # By primes a residue of which all others but 0 are powers, and the one that undoes it.
-_MAKERS = {3: (2, 2), 5: (2, 3), 7: (3, 5)}
+MAKERS = {3: (2, 2), 5: (2, 3), 7: (3, 5)}
 
 
 def fillings_number(plan, prime, sizes):
@@ -35,7 +35,7 @@ def _moves(prime, sizes):
     for point, size in enumerate(sizes):
         for at in range(1, size):
             found = found + [(point, at - 1, at), (point, at, at - 1)]
-        if size > 0 and prime in _MAKERS:
+        if size > 0 and prime in MAKERS:
             found.append((point, 0, 0))
     return found
 
@@ -43,7 +43,7 @@ def _moves(prime, sizes):
 def _behind(prime, rows, at, other):
     """A table with the turn of a move behind it."""
     if at == other:
-        moved = [_MAKERS[prime][0] * residue for residue in rows[at]]
+        moved = [MAKERS[prime][0] * residue for residue in rows[at]]
     else:
         moved = [residue + more for residue, more in zip(rows[at], rows[other])]
     return rows[:at] + (tuple([residue % prime for residue in moved]),) + rows[at + 1:]
@@ -53,7 +53,7 @@ def _ahead(prime, rows, at, other):
     """A table with the turn of a move undone ahead of it."""
     found = []
     for row in rows:
-        moved = _MAKERS[prime][1] * row[at] if at == other else row[other] - row[at]
+        moved = MAKERS[prime][1] * row[at] if at == other else row[other] - row[at]
         found.append(row[:other] + (moved % prime,) + row[other + 1:])
     return tuple(found)
 

@@ -88,6 +88,19 @@ def base_columns(prime, columns):
     return tuple(list(base_leads(prime, columns).values()))
 
 
+def leads_of_base(columns):
+    """The dict from the leads to the columns of a base."""
+    return {lead_of(column): column for column in columns}
+
+
+def is_within(prime, columns, leads):
+    """Whether all columns lie in the space whose base the leads tell."""
+    for column in columns:
+        if lead_of(cleared(prime, column, leads)) is not None:
+            return False
+    return True
+
+
 def kernel_columns(prime, rows, width):
     """The base of the columns whose products with all rows of this width are 0."""
     leads = base_leads(prime, rows)

@@ -1,7 +1,8 @@
 """Roots of plans, their multiplicities, and signed sizes. The directions of arrows have no effect here."""
 
 from arrowsizes.base.lots import SHARES, share_of
-from arrowsizes.base.numbers import are_counts, is_count, lowest_terms, row_count, row_less, rows_to, unit_row
+from arrowsizes.base.numbers import are_counts, dot_row, is_count, is_zero_row, lowest_terms
+from arrowsizes.base.numbers import row_count, row_less, rows_to, unit_row
 from arrowsizes.chart.plans import are_joined, check_sizes, is_sizes
 from arrowsizes.errors import InvalidOperation, TooMany
 
@@ -14,7 +15,7 @@ _BELOW = "below"
 
 def _check(plan, sizes):
     check_sizes(plan, sizes)
-    if not any([size > 0 for size in sizes]):
+    if is_zero_row(sizes):
         raise InvalidOperation("the sizes are all 0")
 
 
@@ -24,22 +25,18 @@ def _check_few(plan, sizes):
         raise TooMany(MAX_ROWS)
 
 
-def _product(row, other):
-    return sum([left * right for left, right in zip(row, other)])
-
-
 def _with_less(row, point, number):
     return row[:point] + (row[point] - number,) + row[point + 1:]
 
 
 def _falls(table, sizes, point):
     """Whether the sizes fall at a point, by the match table."""
-    return _product(table[point], sizes) > 0
+    return dot_row(table[point], sizes) > 0
 
 
 def _fallen(table, sizes, point):
     """The sizes, reflected at a point."""
-    return _with_less(sizes, point, _product(table[point], sizes))
+    return _with_less(sizes, point, dot_row(table[point], sizes))
 
 
 def _first_fall(table, sizes):
@@ -134,7 +131,7 @@ def _match_sum(row, shares, table):
     for part, share in shares.items():
         rest = row_less(row, part)
         if rest in shares:
-            number = _product(part, [_product(line, rest) for line in table])
+            number = dot_row(part, [dot_row(line, rest) for line in table])
             total = total + number * share * shares[rest]
     return total
 

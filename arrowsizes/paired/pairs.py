@@ -1,11 +1,11 @@
 """Pairs of fillings, one of a plan and one of the opposite plan, and the numbers that their sums tell."""
 
 from arrowsizes.base.checks import check_prime
-from arrowsizes.base.numbers import are_integers, power_of
-from arrowsizes.chart.plans import check_plan, check_sizes
+from arrowsizes.base.numbers import is_zero_row, power_of
+from arrowsizes.chart.plans import check_plan, check_sizes, check_weight
 from arrowsizes.counted.counts import check_few
 from arrowsizes.counted.tops import pair_top
-from arrowsizes.errors import InvalidFilling, InvalidOperation, InvalidWeight, TooMany
+from arrowsizes.errors import InvalidFilling, InvalidOperation, TooMany
 from arrowsizes.fill.fillings import Filling, ext_number, filling_of_rows, is_hom, tables_of_maps
 from arrowsizes.fill.homs import hom_maps, maps_of
 from arrowsizes.fixed.orbits import fillings_number, kinds_with_numbers
@@ -37,11 +37,6 @@ def _check_mate(filling, other):
         raise InvalidFilling("no filling of the opposite plan with the same prime and sizes")
 
 
-def _check_numbers(plan, numbers):
-    if not are_integers(numbers) or len(numbers) != plan.size:
-        raise InvalidWeight("no tuple of an integer for each point")
-
-
 def _pair_sums(filling, other):
     """The list of the sums of a pair at all points."""
     found = [zero_table(filling.prime, size, size) for size in filling.sizes]
@@ -68,13 +63,13 @@ def is_pair_told(filling, other, numbers):
     """Whether a pair is told by the numbers."""
     _check_filling(filling)
     _check_mate(filling, other)
-    _check_numbers(filling.plan, numbers)
+    check_weight(filling.plan, numbers)
     return _is_told(filling, other, numbers)
 
 
 def _check_lifted(filling, numbers):
     _check_filling(filling)
-    _check_numbers(filling.plan, numbers)
+    check_weight(filling.plan, numbers)
 
 
 def _starts_of(plan, sizes):
@@ -165,7 +160,7 @@ def _check_told(plan, prime, sizes, numbers):
     check_plan(plan)
     check_prime(prime)
     check_sizes(plan, sizes)
-    _check_numbers(plan, numbers)
+    check_weight(plan, numbers)
 
 
 def are_general(plan, prime, sizes, numbers):
@@ -174,7 +169,7 @@ def are_general(plan, prime, sizes, numbers):
     So it is enough to know the sum for the sizes, and how many rows have sums that the prime divides.
     """
     _check_told(plan, prime, sizes, numbers)
-    if not any([size > 0 for size in sizes]):
+    if is_zero_row(sizes):
         raise InvalidOperation("the sizes are all 0")
     many = [1] + [0] * (prime - 1)
     for size, number in zip(sizes, numbers):

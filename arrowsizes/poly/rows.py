@@ -120,6 +120,14 @@ def product_row(one, other):
     return _product_packed(one, other, many)
 
 
+def product_of(rows):
+    """The product of a list of rows."""
+    found = (1,)
+    for row in rows:
+        found = product_row(found, row)
+    return found
+
+
 def power_row(row, many):
     """The product of so many factors that are all the row."""
     found = (1,)

@@ -1,6 +1,6 @@
 """Series of quotients, one for each row up to a bound."""
 
-from arrowsizes.base.numbers import greatest_divisor, is_integer, is_row, moebius
+from arrowsizes.base.numbers import greatest_divisor, is_below, is_integer, is_row, moebius
 from arrowsizes.base.numbers import row_count, row_less, row_over, rows_to
 from arrowsizes.errors import InvalidOperation, InvalidSizes
 from arrowsizes.poly.polys import Poly, Quotient
@@ -12,7 +12,7 @@ def _is_row_to(bound, value):
     """Whether the value is one of the rows from zeros to the bound."""
     if not is_row(value) or len(value) != len(bound):
         return False
-    return all([size <= most for size, most in zip(value, bound)])
+    return is_below(value, bound)
 
 
 def _is_entry(value):

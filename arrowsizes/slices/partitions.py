@@ -1,6 +1,6 @@
 """Partitions of integers, told by tuples that do not ascend."""
 
-from arrowsizes.base.numbers import all_choices, are_counts, are_integers, check_count, is_row
+from arrowsizes.base.numbers import all_choices, are_counts, are_integers, check_count, dot_row, is_row
 from arrowsizes.errors import InvalidOperation, InvalidParts, InvalidSizes, TooMany
 from arrowsizes.poly.polys import Quotient, poly_of_row, turn_row
 from arrowsizes.poly.rows import product_row, shifted_row
@@ -88,7 +88,7 @@ def rows_of_parts(sizes):
 
 
 def _product_number(one, other):
-    return sum([left * right for left, right in zip(_conjugate(one), _conjugate(other))])
+    return dot_row(_conjugate(one), _conjugate(other))
 
 
 def product_number(one, other):

@@ -127,8 +127,8 @@ def _led_back(filling, spaces, inner):
     return tuple(found)
 
 
-def _pieces(filling):
-    """The list of the triples (part, field degree, spaces of the part in the filling)."""
+def split_pieces(filling):
+    """The list of the triples (part, field degree, spaces of the part in the filling), unchecked."""
     found, todo = [], [(filling, tuple([idle_columns(size) for size in filling.sizes]))]
     while todo:
         part, spaces = todo.pop()
@@ -144,17 +144,17 @@ def _pieces(filling):
 def parts_of(filling):
     """Any tuple of parts."""
     _check_one(filling)
-    return tuple([part for part, _, _ in _pieces(filling)])
+    return tuple([part for part, _, _ in split_pieces(filling)])
 
 
 def part_sizes(filling):
     """The tuple of the pairs (sizes, field degree) of all parts, in ascending sequence, with repeats."""
     _check_one(filling)
-    return tuple(sorted([(part.sizes, degree) for part, degree, _ in _pieces(filling)]))
+    return tuple(sorted([(part.sizes, degree) for part, degree, _ in split_pieces(filling)]))
 
 
-def _likeness(one, other):
-    """Any likeness of two unsplittable fillings, as rows, or None.
+def part_likeness(one, other):
+    """Any likeness of two unsplittable fillings, as rows, or None, unchecked.
 
     If there is one, one of each base of homs is one: all others make a lesser space.
     """
@@ -169,7 +169,7 @@ def _paired(ones, others):
     """The list of the pairs of indices at which parts are paired with like ones, as far as there are some."""
     found, left = [], list(range(len(others)))
     for at, one in enumerate(ones):
-        alike = [place for place in left if _likeness(one, others[place]) is not None]
+        alike = [place for place in left if part_likeness(one, others[place]) is not None]
         if alike:
             found.append((at, alike[0]))
             left.remove(alike[0])
@@ -199,7 +199,7 @@ def times_in(one, other):
     _check_both(one, other)
     if _degree(one) == 0:
         raise InvalidOperation("the filling is not unsplittable")
-    return len([part for part in parts_of(other) if _likeness(one, part) is not None])
+    return len([part for part in parts_of(other) if part_likeness(one, part) is not None])
 
 
 def are_alike(one, other):
@@ -230,13 +230,13 @@ def any_likeness(one, other):
     _check_both(one, other)
     if one.sizes != other.sizes:
         return None
-    pieces, mates = _pieces(one), _pieces(other)
+    pieces, mates = split_pieces(one), split_pieces(other)
     pairs = _paired([part for part, _, _ in pieces], [part for part, _, _ in mates])
     if len(pairs) < len(pieces):
         return None
     ways = []
     for at, place in pairs:
-        ways.append((pieces[at][2], _likeness(pieces[at][0], mates[place][0]), mates[place][2]))
+        ways.append((pieces[at][2], part_likeness(pieces[at][0], mates[place][0]), mates[place][2]))
     return _joint_likeness(one, ways)
 
 

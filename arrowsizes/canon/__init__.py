@@ -1,0 +1,1 @@
+"""Canonical parts of sizes."""

@@ -1,0 +1,1 @@
+"""Joins of fillings."""

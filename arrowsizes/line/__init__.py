@@ -1,0 +1,1 @@
+"""Rows of points, and bars."""

@@ -1,0 +1,1 @@
+"""Two arrows, and lines through a plane."""

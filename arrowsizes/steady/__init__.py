@@ -1,0 +1,1 @@
+"""Weights and steady fillings."""
