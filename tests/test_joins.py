@@ -116,7 +116,7 @@ class Subs(Case):
                 next(subs)
             self.assertEqual(caught.exception.limit, 20000)
         # A size that is too great leaves no row of subspaces.
-        self.assertEqual(list(subs_with(Filling.zero(Plan.line(2), 2, (6, 5)), (3, 6))), [])
+        self.assertEqual(list(subs_with(Filling.zero(Plan.line(2), 7, (6, 5)), (3, 6))), [])
 
     def test_errors(self):
         self.all_refused(InvalidFilling, lambda value: next(subs_with(value, (1, 1))), NO_FILLINGS)

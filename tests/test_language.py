@@ -283,6 +283,42 @@ class Language(unittest.TestCase):
                 if isinstance(operator, (ast.Is, ast.IsNot)):
                     self.assertIn(getattr(other, "value", 0), (None, True, False))
 
+    def test_generators_have_names_of_their_own(self):
+        generators, others = [], []
+        for path in FILES:
+            for node in ast.walk(tree_of(path)):
+                if isinstance(node, ast.FunctionDef):
+                    yields = [part for part in ast.walk(node) if isinstance(part, ast.Yield)]
+                    (generators if yields else others).append(node.name)
+        self.assertEqual(len(generators), len(set(generators)))
+        self.assertEqual([name for name in generators if name in others + BUILTIN_METHODS], [])
+        for node in self.each(ast.Call):
+            if isinstance(node.func, ast.Name):
+                self.assertNotIn(node.func.id, generators)
+
+    def test_blocks(self):
+        """Blocks stand over a call, and what is done behind them is told by plain assignments alone."""
+        for node in self.each(ast.With):
+            self.assertEqual([type(item.context_expr) for item in node.items], [ast.Call])
+        for node in self.each(ast.FunctionDef):
+            if node.name == "__exit__":
+                for part in node.body:
+                    self.assertIsInstance(part, ast.Assign)
+                    self.assertIsInstance(part.value, ast.Attribute)
+
+    def test_iterated_objects(self):
+        called = []
+        for node in self.each(ast.FunctionDef):
+            calls = [part for part in ast.walk(node) if isinstance(part, ast.Call) and isinstance(part.func, ast.Name) and part.func.id == "iter"]
+            if node.name == "__iter__":
+                self.assertEqual(len(node.body), 1)
+                self.assertEqual(node.body[0].value, calls[0])
+                self.assertIsInstance(calls[0].args[0], ast.Attribute)
+                called.append(node.name)
+            else:
+                self.assertEqual(calls, [])
+        self.assertEqual(called, ["__iter__"])
+
     def test_changes_in_place(self):
         for node in self.each(ast.AugAssign):
             self.assertIsInstance(node.op, (ast.Add, ast.Sub))

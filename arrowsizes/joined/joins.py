@@ -1,6 +1,6 @@
 """Joins of fillings: subs with told quotients, and extensions."""
 
-from arrowsizes.base.numbers import are_counts, power_of, row_plus
+from arrowsizes.base.numbers import are_counts, is_below, power_of, row_plus
 from arrowsizes.chart.plans import MOST_SIZE, Plan, check_sizes
 from arrowsizes.errors import InvalidOperation, TooMany
 from arrowsizes.fill.fillings import are_tables, check_filling, check_together, filling_off, filling_on
@@ -48,6 +48,8 @@ def _check_classes(rest, sub):
 
 def _subs(filling, sizes):
     """The list of all subs with some sizes."""
+    if not is_below(sizes, filling.sizes):
+        return []
     options = [all_bases(filling.prime, height, number) for height, number in zip(filling.sizes, sizes)]
     return subs_among(filling, options)
 
