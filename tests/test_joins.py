@@ -16,6 +16,7 @@ from arrowsizes.joined.joins import (
     class_base, extended, join_number, likeness_number, line_join, line_sort, middle_number, middles, subs_with)
 from arrowsizes.line.bars import bar_row_of, bar_rows, filling_of_bars
 from arrowsizes.poly.polys import Poly, gauss
+from arrowsizes.special.specials import two_filling
 from arrowsizes.split.splits import are_alike, parts_of
 from tests.helpers import Case, NO_TUPLES, OTHERS, all_rows
 from tests.some_fillings import (
@@ -321,12 +322,43 @@ class Middles(Case):
         for rest, sub in ((turned, turned), (nilpotent, nilpotent), (round_filling(2, (1, 1), 2), turned), (turned.summed(turned), turned), (round_filling(3, (1, 0)), round_filling(3, (1, 0))), (round_filling(2, (1, 1, 0)), round_filling(2, (1, 1, 0)))):
             self.check_numbers(rest, sub)
 
+    def test_sums_of_great_parts(self):
+        """Sums of parts that have sizes above 1 at single points."""
+        source, met = random.Random(15), 0
+        labels = (("more", 1), ("less", 1), ("more", 2), ("place", (0, 1), 2), ("place", (), 2), ("more", 0), ("less", 0), ("place", (1, 1), 1), ("place", (1, 1), 2))
+        while met < 15:
+            lots = [[source.choice(labels) for _ in range(2)] for _ in range(2)]
+            rest, sub = [two_filling(2, lot[0]).summed(two_filling(2, lot[1])) for lot in lots]
+            if max(plus(rest.sizes, sub.sizes)) <= 6 and 0 < ext_number(rest, sub) <= 5:
+                met += 1
+                for whole, many in self.check_numbers(rest, sub)[:1]:
+                    self.by_join_number(rest, sub, whole, many)
+
+    def test_nilpotent_endomorphisms_without_homs_back(self):
+        """Nilpotent endomorphisms of the one filling lead classes to others, and no hom leads back."""
+        plan = Plan(3, ((0, 1), (0, 1), (0, 2)))
+        for prime, labels in ((2, (("place", (0, 1), 2),)), (2, (("place", (), 3),)), (3, (("place", (1, 1), 2), ("more", 1))), (2, (("place", (1, 1, 1), 2),)), (2, (("place", (0, 1), 2), ("place", (0, 1), 1))), (5, (("place", (3, 1), 2),)),
+                              (2, (("place", (1, 1, 1), 1), ("place", (0, 1), 2))), (2, (("more", 1), ("more", 1)))):
+            two = two_filling(prime, labels[0])
+            for label in labels[1:]:
+                two = two.summed(two_filling(prime, label))
+            for many in (1, 2):
+                if prime ** (two.sizes[0] * many) > 2500 or two.total + many > 12:
+                    continue
+                rest = Filling(plan, prime, two.sizes + (0,), two.tables + (zero_table(prime, 0, two.sizes[0]),))
+                sub = Filling.zero(plan, prime, (0, 0, many))
+                self.assertEqual(hom_number(sub, rest), 0)
+                for whole, number in self.check_numbers(rest, sub):
+                    self.by_join_number(rest, sub, whole, number)
+                self.check_numbers(sub.turned_over(), rest.turned_over())
+
     def check_numbers(self, rest, sub):
         found = middles(rest, sub)
         self.assertEqual(sum([many for _, many in found]), rest.prime ** ext_number(rest, sub))
         for at, (whole, many) in enumerate(found):
             self.assertFalse([other for other, _ in found[:at] if are_alike(whole, other)])
-            self.same(middle_number(rest, sub, whole), many)
+            if at < 6:
+                self.same(middle_number(rest, sub, whole), many)
         return found
 
     def test_added_up(self):

@@ -140,7 +140,7 @@ def _meeting(height, width, number, meet):
 
     All are spaces of a height; numbers that tell nothing give 0.
     """
-    if min(number, meet, width - meet, number - meet, height - width) < 0:
+    if not 0 <= meet <= number:
         return ()
     ways = [gauss_row(width, meet), gauss_row(height - width, number - meet)]
     return shifted_row(product_of(ways), (number - meet) * (width - meet))

@@ -298,6 +298,6 @@ def lines_kinds(prime, arms):
         for lines, many in ways.items():
             further = 1 if lines < 3 else prime + 1 - lines
             longer[lines] = longer.get(lines, 0) + many * (lines + 1)
-            longer[lines + 1] = longer.get(lines + 1, 0) + many * further
+            longer[lines + 1] = many * further
         ways = longer
     return sum(list(ways.values()))

@@ -2,7 +2,7 @@
 
 from arrowsizes.base.checks import check_prime
 from arrowsizes.base.numbers import is_integer, is_name, row_plus
-from arrowsizes.chart.plans import MOST_SIZE, check_plan
+from arrowsizes.chart.plans import check_plan
 from arrowsizes.errors import InvalidCount, InvalidOperation, InvalidPledge, NothingToUndo, Refused, TooMany
 from arrowsizes.errors import UnknownName
 from arrowsizes.fill.fillings import check_filling
@@ -85,10 +85,7 @@ class Desk:
         """A change: with the sum of two fillings as a further one."""
         self._check_new(name)
         left, right = self._entry(one), self._entry(other)
-        sizes = row_plus(left[0].sizes, right[0].sizes)
-        self._check_room(sizes)
-        if any([size > MOST_SIZE for size in sizes]):
-            raise TooMany(MOST_SIZE)
+        self._check_room(row_plus(left[0].sizes, right[0].sizes))
         # The parts of a sum are those of both.
         return self._changed(self._board.with_entry(name, (left[0].summed(right[0]), left[1] + right[1])))
 
