@@ -46,12 +46,11 @@ def _sum_of(filling, parts):
 
 
 class Split:
-    """A filling as the sum of its parts, and turns that keep it."""
+    """A sum of parts of a filling, told by pairs (part, field degree), and turns that keep it."""
 
-    def __init__(self, filling):
-        pieces = split_pieces(filling)
-        self.parts = [part for part, _, _ in pieces]
-        self.degrees = [degree for _, degree, _ in pieces]
+    def __init__(self, filling, pairs):
+        self.parts = [part for part, _ in pairs]
+        self.degrees = [degree for _, degree in pairs]
         self.filling = _sum_of(filling, self.parts)
 
     def keepers(self):
@@ -93,17 +92,29 @@ def _merged(lots, outer, inner):
     return [(filling, many) for known in by_marks.values() for _, filling, many in known]
 
 
-def alike_extensions(rest, sub):
-    """The list of the pairs of an extension of each kind, and of how many classes tell such ones.
+def _kinds_of(outer, inner):
+    """The lots, with alike extensions in one.
 
     If no hom other than zeros leads from the sub to the rest, likenesses of extensions come of
     turns that keep the sub and the rest. So lots are kinds if these turns make all such ones.
     """
-    outer, inner = Split(rest), Split(sub)
     lots = _lots_of(outer, inner)
-    if _homs(sub, rest) == 0 and outer.is_all_firm() and inner.is_all_firm():
+    if _homs(inner.filling, outer.filling) == 0 and outer.is_all_firm() and inner.is_all_firm():
         return lots
     return _merged(lots, outer, inner)
+
+
+def alike_extensions(rest, sub):
+    """The list of the pairs of an extension of each kind, and of how many classes tell such ones.
+
+    Parts of the rest that have the ext number 0 with the sub are parts of each extension, and so
+    are parts of the sub with which the rest has the ext number 0. They are left out, and added again.
+    """
+    outer = [(part, degree, hom_and_ext(part, sub)[1]) for part, degree, _ in split_pieces(rest)]
+    inner = [(part, degree, hom_and_ext(rest, part)[1]) for part, degree, _ in split_pieces(sub)]
+    beside = _sum_of(rest, [part for part, _, ext in inner + outer if ext == 0])
+    moved = [Split(rest, [(part, degree) for part, degree, ext in lot if ext > 0]) for lot in (outer, inner)]
+    return [(filling.summed(beside), many) for filling, many in _kinds_of(moved[0], moved[1])]
 
 
 def likenesses_of(filling):
